@@ -1,0 +1,1 @@
+"""Names and houses."""

@@ -1,0 +1,88 @@
+"""Houses and values that several tests use, and the class from which tests are derived."""
+
+import unittest
+
+from eachshare import errors
+from eachshare.base.houses import House
+
+
+def duo():
+    return House(("l", "r"), {"a": ("l",), "b": ("r",), "m": ("l", "r")})
+
+
+def line():
+    return House(("p", "q", "r"), {"a": ("p",), "c": ("r",), "x": ("p", "q"), "y": ("q", "r")})
+
+
+def groves():
+    """A house of two trees, one of them with its top inside a line, and a hand without deeds in neither."""
+    deeds = {"ab": ("a", "b"), "ac": ("a", "c"), "d": ("d",), "one": ("a",), "two": ("c",)}
+    return House(("a", "b", "c", "d", "e"), deeds)
+
+
+def snake():
+    """A line of five hands, b c a e d, whose top stands inside it."""
+    deeds = {"bc": ("b", "c"), "ac": ("a", "c"), "ae": ("a", "e"), "de": ("d", "e")}
+    return House(("a", "b", "c", "d", "e"), deeds)
+
+
+def houses():
+    alone = House(("z",), {"z": ("z",)})
+    twice = House(("k", "n"), {"e": ("k", "n"), "f": ("k", "n"), "g": ("k",)})
+    return [duo(), line(), groves(), snake(), alone, twice]
+
+
+def told(house):
+    """All that a house tells of itself."""
+    doers = {deed: house[deed] for deed in house.deeds}
+    hands = [(hand, house.deeds_of(hand), house.above(hand), house.side(hand)) for hand in house.hands]
+    return [house.hands, house.deeds, house.links, house.apart, doers, hands, len(house), str(house)]
+
+
+def nested(wrap, core, deep):
+    for _ in range(deep):
+        core = wrap(core)
+    return core
+
+
+def plain_values():
+    """Values that are neither a name, nor a tuple of names, nor a dict from names."""
+    numbers = [0, 1, -1, 7, 10 ** 59, 10 ** 60 - 1, 10 ** 60, -(10 ** 60), 10 ** 99, 10 ** 100 - 1, 1 - 10 ** 100]
+    texts = ["", "A", "aB", "a b", " a", "a\n", "\n", "a1", "a_b", "a-b", "`", "{", "@", "overlongx", "l, r", "('l', 'r')"]
+    texts += ["a" * 4000, "A" * 4000, "\n" * 4000, " ~" * 2000]
+    return [True, False, None] + numbers + texts
+
+
+def nested_values():
+    values = [[], ["l"], ["l", "r"], [True], (1,), (True,), (None,), ("",), ("l", 1), (("l",),), (["l"],), ({"l": 1},)]
+    values += [{1: 2}, {True: ("l",)}, {None: None}, {("a",): ("l",)}, {"": ("l",)}, {"A": ("l",)}, {(): []}]
+    for core in ("l", 0, None, (), [], {}):
+        values.append(nested(lambda part: (part, 1), core, 9))
+        values.append(nested(lambda part: [part], core, 9))
+        values.append(nested(lambda part: {0: part}, core, 9))
+        values.append(nested(lambda part: ([{1: part}],), core, 3))
+    return values
+
+
+def own_objects():
+    return [duo(), line(), (duo(),), [line()], {0: duo()}, errors.InvalidHouse("l"), errors.UnknownName("l")]
+
+
+def odd_values():
+    """Values that are no name, no tuple of names and no dict from names, of every kind that can be passed."""
+    return plain_values() + nested_values() + own_objects()
+
+
+class Case(unittest.TestCase):
+    def caught(self, error, call, *given, **more):
+        """The error of a call, which must be of just this class."""
+        try:
+            call(*given, **more)
+        except Exception as found:
+            self.assertIs(type(found), error, f"{given!r:.200} {more!r:.200}")
+            return found
+        return self.fail(f"no {error.__name__}: {given!r:.200} {more!r:.200}")
+
+    def unknown(self, name, call, *given):
+        """The call must raise UnknownName that keeps the very name."""
+        self.assertIs(self.caught(errors.UnknownName, call, *given).name, name)

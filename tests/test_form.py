@@ -1,0 +1,163 @@
+"""The interface as the document writes it, and those rules of the language that can be counted."""
+
+import ast
+import builtins
+import importlib
+import inspect
+import unittest
+import warnings
+from pathlib import Path
+
+ROOT = Path(__file__).resolve().parent.parent
+PACKAGE = ROOT / "eachshare"
+FILES = sorted(PACKAGE.rglob("*.py"))
+
+FUNCTIONS = {
+    "eachshare.base.names": {
+        "is_integer": "(value)", "is_name": "(value)", "is_set": "(value)", "is_names": "(value)",
+    },
+}
+CONSTANTS = {
+    "eachshare.base.names": {"MAX_LETTERS": 8},
+    "eachshare.base.houses": {"MAX_HANDS": 5, "MAX_DEEDS": 8},
+}
+CLASSES = {
+    ("eachshare.base.houses", "House"): {
+        "__init__": "(self, hands, deeds)", "__getitem__": "(self, deed)", "__contains__": "(self, value)",
+        "__len__": "(self)", "__eq__": "(self, other)", "__str__": "(self)",
+        "deeds_of": "(self, hand)", "are_apart": "(self, one, other)", "above": "(self, hand)", "side": "(self, hand)",
+        "given": "(self, deed, hand)", "as_one": "(self, one, other)", "with_deed": "(self, deed, hands)",
+        "without_deed": "(self, deed)", "renamed": "(self, *, hands=None, deeds=None)",
+    },
+}
+PROPERTIES = {("eachshare.base.houses", "House"): ("hands", "deeds", "links", "apart")}
+ERRORS = {
+    "UnknownName": "(name)", "InvalidNumber": "(value)", "TooMany": "(limit)", "NothingToUndo": "(many)",
+    "Unsteady": "(breach)", "Refused": "(name)", "Unmatched": "(pair)", "ParseError": "(index)",
+}
+
+CALLED = {
+    "len", "range", "enumerate", "zip", "min", "max", "sum", "abs", "sorted", "reversed", "int", "str", "bool", "list",
+    "tuple", "dict", "set", "isinstance", "ord", "repr", "any", "all", "divmod", "pow", "map", "iter", "next", "super",
+    "property", "staticmethod", "classmethod", "ValueError", "TypeError", "KeyError", "IndexError", "LookupError",
+    "ArithmeticError", "OverflowError", "NotImplemented",
+}
+LIBRARY = {"heapq", "math", "itertools", "collections"}
+
+
+def parsed(path):
+    return ast.parse(path.read_text(encoding="ascii"))
+
+
+def top_level(path):
+    """The names that a file defines, imports aside."""
+    found = set()
+    for part in parsed(path).body:
+        if isinstance(part, (ast.FunctionDef, ast.ClassDef)):
+            found.add(part.name)
+        elif isinstance(part, ast.Assign):
+            found |= {target.id for target in part.targets}
+    return found
+
+
+def file_of(module):
+    return ROOT / (module.replace(".", "/") + ".py")
+
+
+def class_body(module, name):
+    return next(part for part in parsed(file_of(module)).body if isinstance(part, ast.ClassDef) and part.name == name)
+
+
+class Interface(unittest.TestCase):
+    def test_functions(self):
+        for module, functions in FUNCTIONS.items():
+            for name, wanted in functions.items():
+                found = getattr(importlib.import_module(module), name)
+                self.assertEqual(str(inspect.signature(found)), wanted, name)
+                self.assertIn(name, top_level(file_of(module)))
+
+    def test_constants(self):
+        for module, constants in CONSTANTS.items():
+            for name, wanted in constants.items():
+                self.assertEqual(getattr(importlib.import_module(module), name), wanted)
+                self.assertIn(name, top_level(file_of(module)))
+
+    def test_methods(self):
+        for (module, name), methods in CLASSES.items():
+            owner = getattr(importlib.import_module(module), name)
+            defined = {part.name for part in class_body(module, name).body if isinstance(part, ast.FunctionDef)}
+            for method, wanted in methods.items():
+                self.assertEqual(str(inspect.signature(vars(owner)[method])), wanted, method)
+                self.assertIn(method, defined)
+
+    def test_properties(self):
+        for (module, name), properties in PROPERTIES.items():
+            owner = getattr(importlib.import_module(module), name)
+            for one in properties:
+                self.assertIsInstance(vars(owner)[one], property)
+
+    def test_errors(self):
+        module = importlib.import_module("eachshare.errors")
+        for name, wanted in ERRORS.items():
+            self.assertEqual(str(inspect.signature(getattr(module, name))), wanted, name)
+            self.assertIn(name, top_level(file_of("eachshare.errors")))
+
+
+class Form(unittest.TestCase):
+    def test_only_files_of_the_package(self):
+        for path in PACKAGE.rglob("*"):
+            if "__pycache__" not in path.parts:
+                self.assertTrue(path.is_dir() or path.suffix == ".py", path)
+                self.assertEqual(path.name, path.name.lower())
+        for folder in {path.parent for path in FILES}:
+            self.assertTrue((folder / "__init__.py").is_file(), folder)
+            self.assertFalse([path for path in folder.glob("*.py") if path.with_suffix("").is_dir()])
+
+    def test_sizes_and_signs(self):
+        for path in FILES:
+            text = path.read_text(encoding="utf-8")
+            lines = text.split("\n")
+            self.assertLess(len(lines), 400, path)
+            self.assertLessEqual(max(len(line) for line in lines), 120, path)
+            self.assertTrue(all(sign == "\n" or " " <= sign <= "~" for sign in text), path)
+
+    def test_sizes_of_functions(self):
+        for path in FILES:
+            for part in ast.walk(parsed(path)):
+                if isinstance(part, ast.FunctionDef):
+                    self.assertLessEqual(part.end_lineno - part.lineno + 1, 40, (path, part.name))
+
+    def test_imports(self):
+        for path in FILES:
+            for part in ast.walk(parsed(path)):
+                self.assertNotIsInstance(part, ast.Import, path)
+                if isinstance(part, ast.ImportFrom) and part.module not in LIBRARY:
+                    self.assertEqual((part.level, part.module.split(".")[0]), (0, "eachshare"), path)
+                    for name in part.names:
+                        self.assertIn(name.name, top_level(file_of(part.module)), path)
+
+    def test_builtins(self):
+        for path in FILES:
+            names = {part.id for part in ast.walk(parsed(path)) if isinstance(part, ast.Name)}
+            self.assertEqual({name for name in names if hasattr(builtins, name)} - CALLED, set(), path)
+
+    def test_no_builtin_has_another_meaning(self):
+        for path in FILES:
+            for part in ast.walk(parsed(path)):
+                if isinstance(part, ast.Name) and isinstance(part.ctx, ast.Store):
+                    self.assertFalse(hasattr(builtins, part.id), (path, part.id))
+                if isinstance(part, ast.arg):
+                    self.assertFalse(hasattr(builtins, part.arg), (path, part.arg))
+
+    def test_an_index_comes_with_an_iter(self):
+        for path in FILES:
+            for part in ast.walk(parsed(path)):
+                if isinstance(part, ast.ClassDef):
+                    names = [row.name for row in part.body if isinstance(row, ast.FunctionDef)]
+                    self.assertTrue("__iter__" in names or "__getitem__" not in names, part.name)
+
+    def test_no_warnings(self):
+        for path in FILES:
+            with warnings.catch_warnings():
+                warnings.simplefilter("error")
+                compile(path.read_text(encoding="ascii"), str(path), "exec")
