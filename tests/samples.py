@@ -4,6 +4,8 @@ import unittest
 
 from eachshare import errors
 from eachshare.base.houses import House
+from eachshare.share.shares import Share
+from eachshare.wish.wishes import Wish
 
 
 def duo():
@@ -30,6 +32,43 @@ def houses():
     alone = House(("z",), {"z": ("z",)})
     twice = House(("k", "n"), {"e": ("k", "n"), "f": ("k", "n"), "g": ("k",)})
     return [duo(), line(), groves(), snake(), alone, twice]
+
+
+def crowd():
+    """A house of five hands and eight deeds: a hub with three hands around it, and one hand by itself."""
+    deeds = {"ac": ("a", "c"), "bc": ("b", "c"), "cd": ("c", "d"), "on": ("a",), "tw": ("b",), "th": ("c",), "fo": ("d",)}
+    return House(("a", "b", "c", "d", "e"), {**deeds, "fi": ("e",)})
+
+
+def many_houses():
+    """Houses of all these kinds, and one with a hand without deeds ahead of all others."""
+    return houses() + [crowd(), House(("a", "b", "c"), {"u": ("b", "c"), "v": ("b",), "w": ("c",)})]
+
+
+def even():
+    return Wish(("a", "b", "m"), ((1, 1, 0), (0, 0, 1)), (0,))
+
+
+def once():
+    return Wish(("a", "b", "m"), ((1, 1, 0), (2, 2, 0), (2, 2, 2)), (0, 1))
+
+
+def calm():
+    return Wish(("a", "b", "m"), ((1, 2, 0), (1, 3, 0), (3, 2, 0), (3, 3, 3)), (0, 1, 2))
+
+
+def first():
+    return Wish(("a", "b", "m"), ((1, 2, 0), (1, 1, 1), (2, 2, 2)), (0, 1))
+
+
+def odd_parts():
+    """The parts of a share of duo, ahead of which only the house stands, with the rows of an odd number of a and b."""
+    tables = {"a": (1, 0), "b": (1, 0), "m": (((0, 0), (0, 1)), ((1, 0), (1, 1)))}
+    return {"l": 2, "r": 2}, tables, {"r": ((0, 1), (1, 0))}, (1,)
+
+
+def odd_share():
+    return Share(duo(), *odd_parts())
 
 
 def told(house):
@@ -65,12 +104,25 @@ def nested_values():
 
 
 def own_objects():
-    return [duo(), line(), (duo(),), [line()], {0: duo()}, errors.InvalidHouse("l"), errors.UnknownName("l")]
+    houses_alone = [duo(), line(), (duo(),), [line()], {0: duo()}]
+    others = [even(), (even(),), [first()], {1: calm()}, odd_share(), (odd_share(), 0), [odd_share()]]
+    return houses_alone + others + [errors.InvalidHouse("l"), errors.UnknownName("l")]
 
 
 def odd_values():
     """Values that are no name, no tuple of names and no dict from names, of every kind that can be passed."""
     return plain_values() + nested_values() + own_objects()
+
+
+def odd_values_but(*kinds):
+    """The odd values that are of none of these kinds."""
+    return [value for value in odd_values() if not isinstance(value, kinds)]
+
+
+def no_numbers(limit):
+    """Values that are no integers from 0 on that are less than the limit; the limit and -1 are among them."""
+    numbers = [value for value in odd_values() if type(value) is not int or not 0 <= value < limit]
+    return numbers + [limit, limit + 1, -1, "0", (), (0,), [0]]
 
 
 class Case(unittest.TestCase):
@@ -82,6 +134,22 @@ class Case(unittest.TestCase):
             self.assertIs(type(found), error, f"{given!r:.200} {more!r:.200}")
             return found
         return self.fail(f"no {error.__name__}: {given!r:.200} {more!r:.200}")
+
+    def wrong_number(self, value, call, *given):
+        """The call must raise InvalidNumber that keeps the very value."""
+        self.assertIs(self.caught(errors.InvalidNumber, call, *given).value, value)
+
+    def not_iterated_over(self, value):
+        for call in (iter, list, tuple, sorted, dict, enumerate, zip):
+            self.caught(TypeError, call, value)
+        with self.assertRaises(TypeError):
+            for _ in value:
+                pass
+        with self.assertRaises(TypeError):
+            one, other = value
+
+    def too_many(self, limit, call, *given):
+        self.assertEqual(self.caught(errors.TooMany, call, *given).limit, limit)
 
     def unknown(self, name, call, *given):
         """The call must raise UnknownName that keeps the very name."""

@@ -2,11 +2,20 @@
 
 from eachshare.base.houses import House
 from eachshare.base.names import is_integer, is_name, is_names, is_set
-from eachshare.errors import InvalidHouse
+from eachshare.base.rows import alike_rows, are_alike, exchanged, first_alike, layers, own_rows, past, whole
+from eachshare.errors import InvalidHouse, InvalidShare, Unmatched
+from eachshare.share.shares import Share
+from eachshare.share.steady import breach, commuting, is_breach, is_steady
+from eachshare.wish.wishes import Wish
+from tests import again
 from tests.samples import Case
 
 DUO = House(("l", "r"), {"a": ("l",), "b": ("r",), "m": ("l", "r")})
 LINE = House(("p", "q", "r"), {"a": ("p",), "c": ("r",), "x": ("p", "q"), "y": ("q", "r")})
+EVEN = Wish(("a", "b", "m"), ((1, 1, 0), (0, 0, 1)), (0,))
+ONCE = Wish(("a", "b", "m"), ((1, 1, 0), (2, 2, 0), (2, 2, 2)), (0, 1))
+CALM = Wish(("a", "b", "m"), ((1, 2, 0), (1, 3, 0), (3, 2, 0), (3, 3, 3)), (0, 1, 2))
+FIRST = Wish(("a", "b", "m"), ((1, 2, 0), (1, 1, 1), (2, 2, 2)), (0, 1))
 
 
 class Stage1(Case):
@@ -44,3 +53,100 @@ class Stage2(Case):
     def test_a_text_is_like_its_example(self):
         self.assertEqual(str(DUO), "house of 2 hands, 3 deeds")
         self.assertEqual(str(House(("l",), {"a": ("l",)})), "house of 1 hands, 1 deeds")
+
+
+class Wishes(Case):
+    def test_what_they_want(self):
+        for row in again.all_rows(("a", "b", "m"), 6):
+            parts = "".join(row).split("m")
+            self.assertIs(row in EVEN, len("".join(parts)) % 2 == 0)
+            self.assertIs(row in ONCE, all(len(part) <= 1 for part in parts))
+            self.assertIs(row in CALM, not any("a" in part and "b" in part for part in parts))
+            self.assertIs(row in FIRST, "b" not in row or "a" in row[:row.index("b")])
+
+    def test_least_as_they_are_written(self):
+        self.assertEqual([len(wish) for wish in (EVEN, ONCE, CALM, FIRST)], [2, 3, 4, 3])
+        self.assertEqual([CALM.targets, CALM.kept], [((1, 2, 0), (1, 3, 0), (3, 2, 0), (3, 3, 3)), (0, 1, 2)])
+
+    def test_first_is_not_steady(self):
+        self.assertEqual([is_steady(DUO, wish) for wish in (EVEN, ONCE, CALM, FIRST)], [True, True, True, False])
+
+
+class Stage3(Case):
+    row = ("a", "c", "x", "a", "y", "c")
+
+    def test_own_rows_and_pasts(self):
+        answers = [
+            own_rows(LINE, self.row), past(LINE, self.row, "p"), past(LINE, self.row, "q"),
+            past(LINE, self.row, "r") == self.row,
+        ]
+        wanted = [
+            {"p": ("a", "x", "a"), "q": ("x", "y"), "r": ("c", "y", "c")}, ("a", "x", "a"), ("a", "c", "x", "y"), False,
+        ]
+        self.assertEqual(answers, wanted)
+
+    def test_alike(self):
+        answers = [
+            first_alike(LINE, ("c", "x", "a")), are_alike(LINE, ("c", "x"), ("x", "c")), layers(LINE, self.row),
+            len(list(alike_rows(LINE, ("a", "c", "x")))),
+        ]
+        self.assertEqual(answers, [("c", "x", "a"), True, (("a", "c"), ("x",), ("a", "y"), ("c",)), 3])
+
+    def test_whole(self):
+        answers = [whole(DUO, {"l": ("a", "m"), "r": ("b", "m", "b")}), exchanged(DUO, ("a", "b"), 0)]
+        self.assertEqual(answers, [("a", "b", "m", "b"), ("b", "a")])
+        self.assertEqual(self.caught(Unmatched, whole, DUO, {"l": ("m", "a"), "r": ("b",)}).pair, ("l", "r"))
+
+
+class Stage4(Case):
+    def test_asking(self):
+        answers = [
+            len(EVEN), EVEN.after(("a", "m", "b", "a")), ("a", "b") in EVEN, EVEN[1, "b"], EVEN.count(2),
+            ONCE.far(1), str(FIRST),
+        ]
+        self.assertEqual(answers, [2, 1, True, 0, 5, (0, 1, 2), "wish of 3 states, 3 deeds"])
+
+    def test_made_of_wishes(self):
+        answers = [
+            (EVEN & ONCE).shortest(), (ONCE - EVEN).rows(1), EVEN.parting(ONCE), (~EVEN).kept, FIRST.turned() == FIRST,
+        ]
+        self.assertEqual(answers, [(), (("a",), ("b",)), ("a",), (1,), False])
+
+    def test_least(self):
+        answers = [
+            Wish.of_rows(("a", "b"), (("a",), ())).targets, Wish(("a",), ((1,), (2,), (1,)), (0, 2)).targets,
+            Wish(("a",), ((0,),), (0,)) == ~Wish.of_rows(("a",), ()),
+        ]
+        self.assertEqual(answers, [((1, 2), (2, 2), (2, 2)), ((1,), (0,)), True])
+
+
+class Stage5(Case):
+    def test_steady(self):
+        answers = [
+            is_steady(DUO, EVEN), is_steady(DUO, ONCE), is_steady(DUO, FIRST), is_steady(DUO.given("m", "l"), ONCE),
+            commuting(ONCE), commuting(FIRST),
+        ]
+        self.assertEqual(answers, [True, True, False, False, (("a", "b"),), (("a", "m"), ("b", "m"))])
+
+    def test_breaches(self):
+        answers = [
+            breach(DUO, EVEN), breach(DUO, FIRST) in ((("a", "b"), 0), (("b", "a"), 0)),
+            is_breach(DUO, FIRST, (("m", "b", "a", "a"), 1)), is_breach(DUO, FIRST, (("m", "b", "a"), 0)),
+        ]
+        self.assertEqual(answers, [None, True, True, False])
+
+
+class Stage6(Case):
+    sizes = {"l": 2, "r": 2}
+    tables = {"a": (1, 0), "b": (1, 0), "m": (((0, 0), (0, 1)), ((1, 0), (1, 1)))}
+
+    def test_share(self):
+        odd = Share(DUO, self.sizes, self.tables, {"r": ((0, 1), (1, 0))}, (1,))
+        answers = [
+            odd.after(("a", "b", "b")), odd.told((1, 1)), ("a",) in odd, ("a", "b") in odd, odd.step((0, 1), "a"),
+            len(odd.standings()), str(odd),
+        ]
+        self.assertEqual(answers, [(1, 0), 0, True, False, (1, 1), 4, "share of 2 hands, 4 states"])
+
+    def test_no_share(self):
+        self.caught(InvalidShare, Share, DUO, self.sizes, self.tables, {}, (1,))

@@ -16,10 +16,21 @@ FUNCTIONS = {
     "eachshare.base.names": {
         "is_integer": "(value)", "is_name": "(value)", "is_set": "(value)", "is_names": "(value)",
     },
+    "eachshare.base.rows": {
+        "own_row": "(house, row, hand)", "own_rows": "(house, row)", "past": "(house, row, hand)",
+        "are_alike": "(house, one, other)", "first_alike": "(house, row)", "alike_rows": "(house, row)",
+        "layers": "(house, row)", "exchanged": "(house, row, place)", "whole": "(house, rows)",
+    },
+    "eachshare.share.steady": {
+        "is_steady": "(house, wish)", "commuting": "(wish)", "breach": "(house, wish)",
+        "is_breach": "(house, wish, value)",
+    },
 }
 CONSTANTS = {
     "eachshare.base.names": {"MAX_LETTERS": 8},
     "eachshare.base.houses": {"MAX_HANDS": 5, "MAX_DEEDS": 8},
+    "eachshare.wish.wishes": {"MAX_STATES": 24, "MAX_GIVEN": 100},
+    "eachshare.share.shares": {"MAX_LOCAL": 64, "MAX_STANDINGS": 20000},
 }
 CLASSES = {
     ("eachshare.base.houses", "House"): {
@@ -29,8 +40,25 @@ CLASSES = {
         "given": "(self, deed, hand)", "as_one": "(self, one, other)", "with_deed": "(self, deed, hands)",
         "without_deed": "(self, deed)", "renamed": "(self, *, hands=None, deeds=None)",
     },
+    ("eachshare.wish.wishes", "Wish"): {
+        "__init__": "(self, deeds, targets, kept)", "__contains__": "(self, row)", "__getitem__": "(self, at)",
+        "__len__": "(self)", "__bool__": "(self)", "__eq__": "(self, other)", "__str__": "(self)",
+        "__and__": "(self, other)", "__or__": "(self, other)", "__sub__": "(self, other)", "__invert__": "(self)",
+        "after": "(self, row, state=0)", "far": "(self, state)", "turned": "(self)", "renamed": "(self, names)",
+        "count": "(self, size)", "rows": "(self, size)", "shortest": "(self)", "parting": "(self, other)",
+    },
+    ("eachshare.share.shares", "Share"): {
+        "__init__": "(self, house, sizes, tables, folds, kept)", "__contains__": "(self, row)", "__len__": "(self)",
+        "__eq__": "(self, other)", "__str__": "(self)", "step": "(self, standing, deed)", "after": "(self, row)",
+        "told": "(self, standing)", "standings": "(self)",
+    },
 }
-PROPERTIES = {("eachshare.base.houses", "House"): ("hands", "deeds", "links", "apart")}
+CLASS_METHODS = {("eachshare.wish.wishes", "Wish"): {"of_rows": "(deeds, rows)"}}
+PROPERTIES = {
+    ("eachshare.base.houses", "House"): ("hands", "deeds", "links", "apart"),
+    ("eachshare.wish.wishes", "Wish"): ("deeds", "targets", "kept"),
+    ("eachshare.share.shares", "Share"): ("house", "sizes", "tables", "folds", "kept", "first"),
+}
 ERRORS = {
     "UnknownName": "(name)", "InvalidNumber": "(value)", "TooMany": "(limit)", "NothingToUndo": "(many)",
     "Unsteady": "(breach)", "Refused": "(name)", "Unmatched": "(pair)", "ParseError": "(index)",
@@ -89,6 +117,13 @@ class Interface(unittest.TestCase):
             for method, wanted in methods.items():
                 self.assertEqual(str(inspect.signature(vars(owner)[method])), wanted, method)
                 self.assertIn(method, defined)
+
+    def test_class_methods(self):
+        for (module, name), methods in CLASS_METHODS.items():
+            owner = getattr(importlib.import_module(module), name)
+            for method, wanted in methods.items():
+                self.assertIsInstance(vars(owner)[method], classmethod)
+                self.assertEqual(str(inspect.signature(getattr(owner, method))), wanted)
 
     def test_properties(self):
         for (module, name), properties in PROPERTIES.items():

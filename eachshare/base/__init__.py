@@ -1,1 +1,1 @@
-"""Names and houses."""
+"""Names, houses and rows."""

@@ -1,0 +1,1 @@
+"""Steady wishes, and shares that do them."""

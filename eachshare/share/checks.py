@@ -1,0 +1,16 @@
+"""Checks of wishes beside houses that several modules make."""
+
+from eachshare.errors import InvalidOperation, InvalidWish
+from eachshare.wish.wishes import Wish
+
+
+def check_wish(value):
+    """Raise InvalidWish if the value is no wish."""
+    if not isinstance(value, Wish):
+        raise InvalidWish("the value is no wish")
+
+
+def check_belongs(house, wish):
+    """Raise InvalidOperation unless the wish belongs to the house."""
+    if house.deeds != wish.deeds:
+        raise InvalidOperation("a wish belongs to a house with the same deeds only")

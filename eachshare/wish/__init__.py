@@ -1,0 +1,1 @@
+"""Wishes and their machines."""

@@ -1,0 +1,192 @@
+"""What the document says of rows, wishes and shares, worked out again in slower and plainer ways than the program's."""
+
+from itertools import product
+
+
+def all_rows(deeds, size):
+    """All rows with up to so many deeds: shorter ones first, then in Python's order."""
+    return [row for many in range(size + 1) for row in product(deeds, repeat=many)]
+
+
+def are_apart(house, one, other):
+    return not set(house[one]) & set(house[other])
+
+
+def exchanged(row, place):
+    return row[:place] + (row[place + 1], row[place]) + row[place + 2:]
+
+
+def neighbours(house, row):
+    """The rows that come of this one by one exchange, each with its place."""
+    for place in range(len(row) - 1):
+        if are_apart(house, row[place], row[place + 1]):
+            yield place, exchanged(row, place)
+
+
+def alike(house, row):
+    """All rows that come of this one by exchanges one by one, ascending."""
+    met, waiting = {row}, [row]
+    while waiting:
+        for _, other in neighbours(house, waiting.pop()):
+            if other not in met:
+                met.add(other)
+                waiting.append(other)
+    return sorted(met)
+
+
+def own_row(house, row, hand):
+    return tuple(deed for deed in row if hand in house[deed])
+
+
+def own_rows(house, row):
+    return {hand: own_row(house, row, hand) for hand in house.hands}
+
+
+def past(house, row, hand):
+    """By what each hand knows behind each deed, from the beginning on: the places of deeds."""
+    known = {one: set() for one in house.hands}
+    for place, deed in enumerate(row):
+        together = set().union({place}, *[known[one] for one in house[deed]])
+        for one in house[deed]:
+            known[one] = together
+    return tuple(row[place] for place in sorted(known[hand]))
+
+
+def free_deeds(house, row):
+    """The deeds of the row with which some alike row begins, ascending."""
+    found, ahead = set(), set()
+    busy = {hand for deed in house.deeds for hand in house[deed]}
+    for deed in row:
+        if not ahead & set(house[deed]):
+            found.add(deed)
+        ahead |= set(house[deed])
+        if ahead == busy:
+            break
+    return sorted(found)
+
+
+def without(row, deed):
+    """The row without the first one of these deeds."""
+    place = row.index(deed)
+    return row[:place] + row[place + 1:]
+
+
+def first_alike(house, row):
+    found = ()
+    while row:
+        deed = free_deeds(house, row)[0]
+        found, row = found + (deed,), without(row, deed)
+    return found
+
+
+def layers(house, row):
+    found = []
+    while row:
+        found.append(tuple(free_deeds(house, row)))
+        for deed in found[-1]:
+            row = without(row, deed)
+    return tuple(found)
+
+
+def end(deeds, targets, row, state=0):
+    """The state of a machine behind a row."""
+    for deed in row:
+        state = targets[state][deeds.index(deed)]
+    return state
+
+
+def kept_rows(machine, size):
+    """The rows with up to so many deeds that a machine (deeds, targets, kept) keeps."""
+    deeds, targets, kept = machine
+    return [row for row in all_rows(deeds, size) if end(deeds, targets, row) in kept]
+
+
+def sorts_of_states(machine):
+    """How many sorts of states come up, told apart by short rows: a machine with n states needs no longer ones."""
+    deeds, targets, kept = machine
+    rows = all_rows(deeds, len(targets) - 1)
+    states = {end(deeds, targets, row) for row in rows}
+    return len({tuple(end(deeds, targets, row, state) in kept for row in rows) for state in states})
+
+
+def states_as_met(wish, size):
+    """The states of a wish, as rows lead to them, shorter rows first."""
+    met = []
+    for row in all_rows(wish.deeds, size):
+        state = end(wish.deeds, wish.targets, row)
+        if state not in met:
+            met.append(state)
+    return met
+
+
+def sorts_of_rests(deeds, rows):
+    """How many states the least machine with just these rows has: one for each set of rests behind some row."""
+    beginnings = {row[:many] for row in rows for many in range(len(row) + 1)} | {()}
+    beginnings |= {row + (deed,) for row in list(beginnings) for deed in deeds}
+    return len({frozenset(row[len(head):] for row in rows if row[:len(head)] == head) for head in beginnings})
+
+
+def breaches(house, wish, size):
+    """All breaches with up to so many deeds, the shorter ones first."""
+    has = {row: row in wish for row in all_rows(wish.deeds, size)}
+    for row in has:
+        for place, other in neighbours(house, row):
+            if has[row] != has[other]:
+                yield row, place
+
+
+def hearer(house, hand):
+    """The hand to which a hand tells."""
+    if hand == house.hands[0]:
+        return None
+    return house.hands[0] if house.above(hand) is None else house.above(hand)
+
+
+def local_states(house, sizes, tables, row):
+    """The dict from all hands to their states behind a row."""
+    states = {hand: 0 for hand in sizes}
+    for deed in row:
+        if len(house[deed]) == 1:
+            (hand,) = house[deed]
+            states[hand] = tables[deed][states[hand]]
+        else:
+            one, other = house[deed]
+            states[one], states[other] = tables[deed][states[one]][states[other]]
+    return states
+
+
+def heard(house, folds, states, hand):
+    """The state of a hand when all hands that tell to it have told, each with what it has heard itself."""
+    state = states[hand]
+    for low in sorted(low for low in house.hands if hearer(house, low) == hand):
+        state = folds[low][heard(house, folds, states, low)][state]
+    return state
+
+
+def random_machine(rng, deeds, most):
+    """A machine with up to so many states, of which some may not come up and some may be told twice."""
+    many = rng.randint(1, most)
+    targets = tuple(tuple(rng.randrange(many) for _ in deeds) for _ in range(many))
+    return deeds, targets, tuple(state for state in range(many) if rng.random() < 0.5)
+
+
+def random_row(rng, deeds, size):
+    return tuple(rng.choice(deeds) for _ in range(size))
+
+
+def random_parts(rng, house, most):
+    """The parts of a share with up to so many states of each hand, ahead of which only the house stands."""
+    sizes = {hand: rng.randint(1, most) for hand in house.hands}
+    tables, folds = {}, {}
+    for deed in house.deeds:
+        many = [sizes[hand] for hand in house[deed]]
+        if len(many) == 1:
+            tables[deed] = tuple(rng.randrange(many[0]) for _ in range(many[0]))
+        else:
+            tables[deed] = tuple(
+                tuple((rng.randrange(many[0]), rng.randrange(many[1])) for _ in range(many[1])) for _ in range(many[0])
+            )
+    for hand in house.hands[1:]:
+        many = sizes[hearer(house, hand)]
+        folds[hand] = tuple(tuple(rng.randrange(many) for _ in range(many)) for _ in range(sizes[hand]))
+    return sizes, tables, folds, tuple(state for state in range(sizes[house.hands[0]]) if rng.random() < 0.5)
