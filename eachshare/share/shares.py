@@ -24,7 +24,8 @@ class Share:
         self._tables = {deed: tables[deed] for deed in house.deeds}
         self._folds = {hand: folds[hand] for hand in house.hands[1:]}
         self._kept = kept
-        self._places = {deed: [house.hands.index(hand) for hand in house[deed]] for deed in house.deeds}
+        places = {hand: place for place, hand in enumerate(house.hands)}
+        self._places = {deed: [places[hand] for hand in house[deed]] for deed in house.deeds}
         self._telling = _telling(house, house.hands[0])
 
     @property
@@ -61,7 +62,7 @@ class Share:
         return is_row(row, self._house.deeds) and self._told(self._end(row)) in self._kept
 
     def __len__(self):
-        return len(range(sum(self._sizes.values())))
+        return len(list(range(sum(self._sizes.values()))))
 
     def __eq__(self, other):
         if not isinstance(other, Share):

@@ -27,6 +27,7 @@ class Wish:
         self._deeds = deeds
         self._targets = least
         self._kept = ends
+        self._places = {deed: place for place, deed in enumerate(deeds)}
 
     @classmethod
     def of_rows(cls, deeds, rows):
@@ -68,7 +69,7 @@ class Wish:
         state, deed = at
         check_below(state, len(self._targets))
         check_known(deed, self._deeds)
-        return self._targets[state][self._deeds.index(deed)]
+        return self._targets[state][self._places[deed]]
 
     def __iter__(self):
         raise TypeError("a wish is not iterated over")
@@ -173,9 +174,8 @@ class Wish:
 
     def _end(self, row, state):
         """The state to which a row leads, both of which are right."""
-        places = {deed: place for place, deed in enumerate(self._deeds)}
         for deed in row:
-            state = self._targets[state][places[deed]]
+            state = self._targets[state][self._places[deed]]
         return state
 
     def _named(self, row):
