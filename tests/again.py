@@ -190,3 +190,78 @@ def random_parts(rng, house, most):
         many = sizes[hearer(house, hand)]
         folds[hand] = tuple(tuple(rng.randrange(many) for _ in range(many)) for _ in range(sizes[hand]))
     return sizes, tables, folds, tuple(state for state in range(sizes[house.hands[0]]) if rng.random() < 0.5)
+
+
+def machine_of_parts(house, parts, most):
+    """The deeds, targets and kept states of a machine with the rows of a share, None if it has more states than that."""
+    sizes, tables, folds, kept = parts
+    standings, rows, targets = [tuple(local_states(house, sizes, tables, ()).values())], [()], []
+    for row in rows:
+        ends = []
+        for deed in house.deeds:
+            standing = tuple(local_states(house, sizes, tables, row + (deed,)).values())
+            if standing not in standings:
+                standings.append(standing)
+                rows.append(row + (deed,))
+            ends.append(standings.index(standing))
+        targets.append(tuple(ends))
+        if len(standings) > most:
+            return None
+    first = house.hands[0]
+    told = [heard(house, folds, dict(zip(house.hands, standing)), first) for standing in standings]
+    return house.deeds, tuple(targets), tuple(number for number, state in enumerate(told) if state in kept)
+
+
+def reached(wish, deeds, state):
+    """All states to which rows of these deeds lead from a state, ascending."""
+    met = {state}
+    while True:
+        more = {end(wish.deeds, wish.targets, (deed,), one) for one in met for deed in deeds} - met
+        if not more:
+            return tuple(sorted(met))
+        met |= more
+
+
+def side_deeds(house, hand):
+    return [deed for deed in house.deeds if set(house[deed]) <= set(house.side(hand))]
+
+
+def rest_deeds(house, hand):
+    return [deed for deed in house.deeds if not set(house[deed]) & set(house.side(hand))]
+
+
+def view_of(house, wish, row, hand):
+    """The state of the wish behind the hand's past."""
+    return end(wish.deeds, wish.targets, past(house, row, hand))
+
+
+def outlook(house, wish, row):
+    """By pasts: of the whole row, and of the row up to the last deed that a hand did with the one above it."""
+    pairs = []
+    for hand in house.hands:
+        upper = house.above(hand)
+        common = [place for place, deed in enumerate(row) if upper and {hand, upper} <= set(house[deed])]
+        known = view_of(house, wish, row[:common[-1] + 1], hand) if common else 0
+        pairs.append((known, view_of(house, wish, row, hand)))
+    return tuple(pairs)
+
+
+def first_parting(deeds, size, one, other):
+    """The first one of the shortest rows with up to so many deeds that exactly one of both has, or None."""
+    return next((row for row in all_rows(deeds, size) if (row in one) != (row in other)), None)
+
+
+def does(house, parts, wish):
+    """Whether the share with these parts does the wish: by rows to all that comes up together."""
+    sizes, tables, folds, kept = parts
+    met, waiting = set(), [()]
+    while waiting:
+        row = waiting.pop()
+        states = local_states(house, sizes, tables, row)
+        place = (end(wish.deeds, wish.targets, row), tuple(states.values()))
+        if place not in met:
+            if (heard(house, folds, states, house.hands[0]) in kept) != (place[0] in wish.kept):
+                return False
+            met.add(place)
+            waiting += [row + (deed,) for deed in house.deeds]
+    return True

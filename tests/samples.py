@@ -1,11 +1,14 @@
 """Houses and values that several tests use, and the class from which tests are derived."""
 
 import unittest
+from functools import cache
+from random import Random
 
 from eachshare import errors
 from eachshare.base.houses import House
 from eachshare.share.shares import Share
 from eachshare.wish.wishes import Wish
+from tests import again
 
 
 def duo():
@@ -69,6 +72,49 @@ def odd_parts():
 
 def odd_share():
     return Share(duo(), *odd_parts())
+
+
+def turning(house, size, steps):
+    """The wish whose states go round: a deed leads so many of them on, as the dict from deeds tells, or one."""
+    ends = [tuple((state + steps.get(deed, 1)) % size for deed in house.deeds) for state in range(size)]
+    return Wish(house.deeds, tuple(ends), (0,))
+
+
+def grid(house, most):
+    """The wish that counts for each of some deeds how often it is done, up to the most that the dict tells."""
+    places = [()]
+    for many in most.values():
+        places = [place + (count,) for place in places for count in range(many + 1)]
+    counts = [dict(zip(most, place)) for place in places]
+    more = [
+        [{**count, deed: min(count[deed] + 1, most[deed])} if deed in most else count for deed in house.deeds]
+        for count in counts
+    ]
+    ends = tuple(tuple(counts.index(count) for count in row) for row in more)
+    # A state is kept by a sum that tells apart all that can be counted further.
+    return Wish(house.deeds, ends, (len(ends) - 1,))
+
+
+@cache
+def steady(seed, each=4, most=8):
+    """Pairs of a house and a wish that is steady for it: some drawn ones for each house, and written ones."""
+    rng = Random(seed)
+    found = [(duo(), wish) for wish in (even(), once(), calm(), even() & once(), calm().turned())]
+    found += [(line(), turning(line(), 5, {"x": 0, "c": 2})), (line(), grid(line(), {"a": 1, "c": 2}))]
+    found += [(snake(), turning(snake(), 3, {"ae": 2})), (groves(), turning(groves(), 4, {"two": 0, "d": 3}))]
+    for house in many_houses():
+        drawn = []
+        while len(drawn) < each:
+            machine = again.machine_of_parts(house, again.random_parts(rng, house, 3), 60)
+            if machine is not None:
+                try:
+                    wish = Wish(*machine)
+                except errors.TooMany:
+                    continue
+                if 1 < len(wish) <= most:
+                    drawn.append((house, wish))
+        found += drawn
+    return found
 
 
 def told(house):

@@ -4,6 +4,9 @@ from eachshare.base.houses import House
 from eachshare.base.names import is_integer, is_name, is_names, is_set
 from eachshare.base.rows import alike_rows, are_alike, exchanged, first_alike, layers, own_rows, past, whole
 from eachshare.errors import InvalidHouse, InvalidShare, Unmatched
+from eachshare.share.joins import join, next_outlook, outlook, outlooks, rest_ends, side_ends
+from eachshare.share.judged import is_same_paper, parting, parting_of, same_paper, wish_of
+from eachshare.share.made import is_paper, made, paper
 from eachshare.share.shares import Share
 from eachshare.share.steady import breach, commuting, is_breach, is_steady
 from eachshare.wish.wishes import Wish
@@ -150,3 +153,59 @@ class Stage6(Case):
 
     def test_no_share(self):
         self.caught(InvalidShare, Share, DUO, self.sizes, self.tables, {}, (1,))
+
+
+class Stage7(Case):
+    def test_joins(self):
+        answers = [
+            side_ends(DUO, ONCE, "r", 0), rest_ends(DUO, ONCE, "r", 1), join(DUO, ONCE, "r", 0, 1, 1),
+            join(DUO, EVEN, "r", 1, 0, 0), side_ends(DUO, EVEN, "l", 0),
+        ]
+        self.assertEqual(answers, [(0, 1, 2), (1, 2), 2, 1, (0, 1)])
+
+    def test_outlooks(self):
+        answers = [
+            outlook(DUO, EVEN, ("a", "b")), outlook(DUO, EVEN, ("a", "b", "a", "m", "b")),
+            next_outlook(DUO, EVEN, ((0, 1), (0, 1)), "m"), len(outlooks(DUO, EVEN)),
+        ]
+        self.assertEqual(answers, [((0, 1), (0, 1)), ((0, 1), (1, 0)), ((0, 0), (0, 0)), 8])
+
+    def test_no_end(self):
+        self.wrong_number(2, join, DUO, EVEN, "l", 0, 2, 0)
+
+
+class Stage8(Case):
+    odd = Share(DUO, Stage6.sizes, Stage6.tables, {"r": ((0, 1), (1, 0))}, (1,))
+
+    def test_papers(self):
+        answers = [
+            paper(DUO, FIRST)[0], is_paper(DUO, FIRST, ("breach", ("b", "a"), 0)),
+            is_paper(DUO, ~EVEN, ("share", self.odd)), is_paper(DUO, EVEN, ("share", self.odd)),
+        ]
+        self.assertEqual(answers, ["breach", True, True, False])
+
+    def test_made(self):
+        share = made(DUO, ONCE)
+        answers = [
+            ("a", "m", "b") in share, ("a", "b") in share, share.after(("a", "b")) == share.after(("b", "a")),
+            share.sizes["l"] <= 3, share.sizes["r"] <= 9,
+        ]
+        self.assertEqual(answers, [True, False, True, True, True])
+
+
+class Stage9(Case):
+    odd = Stage8.odd
+
+    def test_parting(self):
+        answers = [
+            parting(EVEN, self.odd), parting(~EVEN, self.odd), parting(ONCE, made(DUO, ONCE)),
+            parting_of(self.odd, made(DUO, EVEN)), wish_of(self.odd) == ~EVEN,
+        ]
+        self.assertEqual(answers, [(), None, None, (), True])
+
+    def test_papers(self):
+        answers = [
+            same_paper(EVEN, self.odd)[0], is_same_paper(EVEN, self.odd, ("row", ("m", "a", "b"))),
+            len(same_paper(~EVEN, self.odd)[1]) >= 4,
+        ]
+        self.assertEqual(answers, ["row", True, True])

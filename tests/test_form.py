@@ -25,12 +25,25 @@ FUNCTIONS = {
         "is_steady": "(house, wish)", "commuting": "(wish)", "breach": "(house, wish)",
         "is_breach": "(house, wish, value)",
     },
+    "eachshare.share.joins": {
+        "side_ends": "(house, wish, hand, state)", "rest_ends": "(house, wish, hand, state)",
+        "join": "(house, wish, hand, state, one, other)", "outlook": "(house, wish, row)",
+        "next_outlook": "(house, wish, outlook, deed)", "outlooks": "(house, wish)",
+    },
+    "eachshare.share.made": {
+        "made": "(house, wish)", "paper": "(house, wish)", "is_paper": "(house, wish, value)",
+    },
+    "eachshare.share.judged": {
+        "parting": "(wish, share)", "parting_of": "(one, other)", "same_paper": "(wish, share)",
+        "is_same_paper": "(wish, share, value)", "wish_of": "(share)",
+    },
 }
 CONSTANTS = {
     "eachshare.base.names": {"MAX_LETTERS": 8},
     "eachshare.base.houses": {"MAX_HANDS": 5, "MAX_DEEDS": 8},
     "eachshare.wish.wishes": {"MAX_STATES": 24, "MAX_GIVEN": 100},
     "eachshare.share.shares": {"MAX_LOCAL": 64, "MAX_STANDINGS": 20000},
+    "eachshare.share.made": {"MAX_SHARED": 8},
 }
 CLASSES = {
     ("eachshare.base.houses", "House"): {

@@ -1,6 +1,7 @@
-"""Checks of wishes beside houses that several modules make."""
+"""Checks of wishes and shares that several modules make."""
 
-from eachshare.errors import InvalidOperation, InvalidWish
+from eachshare.errors import InvalidOperation, InvalidShare, InvalidWish
+from eachshare.share.shares import Share
 from eachshare.wish.wishes import Wish
 
 
@@ -8,6 +9,12 @@ def check_wish(value):
     """Raise InvalidWish if the value is no wish."""
     if not isinstance(value, Wish):
         raise InvalidWish("the value is no wish")
+
+
+def check_share(value):
+    """Raise InvalidShare if the value is no share."""
+    if not isinstance(value, Share):
+        raise InvalidShare("the value is no share")
 
 
 def check_belongs(house, wish):

@@ -3,7 +3,8 @@
 from eachshare.base.checks import (
     are_below, check_house, check_known, check_row, has_parts, is_below, is_row, is_set_below,
 )
-from eachshare.errors import InvalidOperation, InvalidShare, TooMany
+from eachshare.errors import InvalidOperation, InvalidShare
+from eachshare.wish.machines import met
 
 MAX_LOCAL = 64
 MAX_STANDINGS = 20000
@@ -96,19 +97,20 @@ class Share:
 
     def standings(self):
         """The set of all standings to which rows lead."""
-        found = [self.first]
-        met = set(found)
-        done = 0
-        while done < len(found):
-            for deed in self._tables:
-                standing = self._moved(found[done], deed)
-                if standing not in met:
-                    met.add(standing)
-                    found.append(standing)
-            if len(found) > MAX_STANDINGS:
-                raise TooMany(MAX_STANDINGS)
-            done += 1
-        return tuple(sorted(found))
+        return tuple(sorted(met(self, self.first, self._tables, MAX_STANDINGS)))
+
+    def moved(self, standing, deed):
+        """The standing behind a deed, both of which are right."""
+        return self._moved(standing, deed)
+
+    def keeps(self, standing):
+        """Whether a row that leads to a standing, which is right, is kept."""
+        return self._told(standing) in self._kept
+
+    def has_standing(self, value):
+        """Whether the value is a tuple of states of all hands."""
+        sizes = list(self._sizes.values())
+        return has_parts(value, len(sizes)) and all([is_below(state, size) for state, size in zip(value, sizes)])
 
     def _end(self, row):
         standing = self.first
@@ -133,18 +135,17 @@ class Share:
         """The state of the first hand when all hands have told, by a standing that is right."""
         states = dict(zip(self._sizes, standing))
         first = self._house.hands[0]
-        for hand, hearer in self._telling:
-            states[hearer] = self._folds[hand][states[hand]][states[hearer]]
+        for hand, upper in self._telling:
+            states[upper] = self._folds[hand][states[hand]][states[upper]]
         return states[first]
 
     def _check_standing(self, value):
         """Raise InvalidOperation unless the value is a tuple of states of all hands."""
-        sizes = list(self._sizes.values())
-        if not has_parts(value, len(sizes)) or not all([is_below(state, size) for state, size in zip(value, sizes)]):
+        if not self.has_standing(value):
             raise InvalidOperation("a standing has a state of each hand, in the order of the hands")
 
 
-def _hearer(house, hand):
+def hearer(house, hand):
     """The hand to which a hand tells, None for the first hand."""
     first = house.hands[0]
     if hand == first:
@@ -152,12 +153,12 @@ def _hearer(house, hand):
     return house.above(hand) or first
 
 
-def _telling(house, hearer):
+def _telling(house, upper):
     """The pairs (hand, hearer) for all that comes to this hearer, at once or by others, in the order of telling."""
     found = []
     for hand in house.hands:
-        if _hearer(house, hand) == hearer:
-            found = found + _telling(house, hand) + [(hand, hearer)]
+        if hearer(house, hand) == upper:
+            found = found + _telling(house, hand) + [(hand, upper)]
     return found
 
 
@@ -189,7 +190,7 @@ def _check_folds(house, sizes, folds):
     """Raise InvalidShare unless the folds are right, by sizes that are."""
     _check_keys(folds, house.hands[1:])
     for hand in house.hands[1:]:
-        many = sizes[_hearer(house, hand)]
+        many = sizes[hearer(house, hand)]
         if not has_parts(folds[hand], sizes[hand]) or not all([are_below(row, many, many) for row in folds[hand]]):
             raise InvalidShare("a hand has tuples of the states of the hand to which it tells")
 

@@ -2,6 +2,7 @@
 
 from eachshare.base.checks import check_house, has_parts, is_row
 from eachshare.base.rows import exchanged, is_exchange
+from eachshare.errors import Unsteady
 from eachshare.share.checks import check_belongs, check_wish
 from eachshare.wish.machines import ways
 
@@ -9,8 +10,7 @@ from eachshare.wish.machines import ways
 def is_steady(house, wish):
     """Whether the wish has, with each row, all rows that are alike."""
     _check_both(house, wish)
-    pairs = commuting(wish)
-    return all([pair in pairs for pair in house.apart])
+    return not any([_forks(wish, pair) for pair in house.apart])
 
 
 def commuting(wish):
@@ -23,14 +23,16 @@ def commuting(wish):
 def breach(house, wish):
     """A breach with as few deeds as possible, None if the wish is steady."""
     _check_both(house, wish)
+    forks = [(pair, state, ends) for pair in house.apart for state, ends in _forks(wish, pair)]
+    if not forks:
+        return None
     heads = ways(wish.targets)
     tails = _tails(wish)
     found = []
-    for pair in house.apart:
-        for state, ends in _forks(wish, pair):
-            head = tuple([wish.deeds[place] for place in heads[state]])
-            found.append((head + pair + tails[ends], len(head)))
-    return min(found, key=lambda one: len(one[0]), default=None)
+    for pair, state, ends in forks:
+        head = tuple([wish.deeds[place] for place in heads[state]])
+        found.append((head + pair + tails[ends], len(head)))
+    return min(found, key=lambda one: len(one[0]))
 
 
 def is_breach(house, wish, value):
@@ -44,6 +46,16 @@ def is_breach(house, wish, value):
     return (row in wish) != (exchanged(house, row, place) in wish)
 
 
+def check_steady(house, wish):
+    """Raise InvalidOperation unless the wish belongs to the house, then Unsteady unless it is steady for it.
+
+    This comes behind the checks of all arguments, one by one.
+    """
+    check_belongs(house, wish)
+    if not is_steady(house, wish):
+        raise Unsteady(breach(house, wish))
+
+
 def _check_both(house, wish):
     check_house(house)
     check_wish(wish)
@@ -55,8 +67,8 @@ def _forks(wish, pair):
     one, other = pair
     found = []
     for state in range(len(wish)):
-        end = wish[wish[state, one], other]
-        mate = wish[wish[state, other], one]
+        end = wish.moved(wish.moved(state, one), other)
+        mate = wish.moved(wish.moved(state, other), one)
         if end != mate:
             found.append((state, (min(end, mate), max(end, mate))))
     return found
@@ -81,7 +93,7 @@ def _tails(wish):
 def _longer(wish, tails, pair):
     """A deed, and the tail of the pair of states to which it leads, None if there is none yet."""
     for deed in wish.deeds:
-        end, mate = wish[pair[0], deed], wish[pair[1], deed]
+        end, mate = wish.moved(pair[0], deed), wish.moved(pair[1], deed)
         ends = (min(end, mate), max(end, mate))
         if ends in tails:
             return (deed,) + tails[ends]

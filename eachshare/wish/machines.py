@@ -1,6 +1,7 @@
 """Machines: for each state the states to which the deeds lead, the deeds told by their places, and the kept states.
 
-Operators of wishes call most of these functions, so none of them changes what it is passed.
+Operators of wishes call most of these functions, so none of them changes what it is passed. What the deeds of all other
+machines lead through is told by objects with a method moved(place, deed), such as wishes and shares.
 """
 
 from eachshare.errors import TooMany
@@ -30,9 +31,38 @@ def first_way(targets, goals):
     return None
 
 
+def met(mover, start, deeds, limit):
+    """The dict from all places to which deeds lead from the start, as they are met, to the place ahead and the deed.
+
+    The start has None. There can be many places far from it, so a dict to whole rows might be too great.
+    """
+    found = {start: None}
+    waiting = [start]
+    done = 0
+    while done < len(waiting):
+        for deed in deeds:
+            place = mover.moved(waiting[done], deed)
+            if place not in found:
+                found[place] = (waiting[done], deed)
+                waiting.append(place)
+        if len(found) > limit:
+            raise TooMany(limit)
+        done += 1
+    return found
+
+
+def way_to(found, place):
+    """The row by which a place was met: for ascending deeds, the first one of the shortest rows that lead there."""
+    row = []
+    while found[place] is not None:
+        place, deed = found[place]
+        row.append(deed)
+    return tuple(row[::-1])
+
+
 def least_machine(targets, kept, limit):
     """The targets and the kept states of the least machine with the same rows, its states numbered as they are met."""
-    states = list(ways(targets))
+    states = _as_met(targets)
     wanted = set(kept)
     classes = {state: int(state in wanted) for state in states}
     many = 0
@@ -49,6 +79,21 @@ def least_machine(targets, kept, limit):
         firsts.setdefault(classes[state], state)
     rows = [tuple([classes[target] for target in targets[first]]) for first in firsts.values()]
     return tuple(rows), tuple([number for number, first in firsts.items() if first in wanted])
+
+
+def _as_met(targets):
+    """The states that come up, as they are met."""
+    found = [0]
+    seen = set(found)
+    done = 0
+    while done < len(found):
+        state = found[done]
+        for target in targets[state]:
+            if target not in seen:
+                seen.add(target)
+                found.append(target)
+        done += 1
+    return found
 
 
 def _split(targets, states, classes):

@@ -98,6 +98,14 @@ class Wish:
         check_below(state, len(self._targets))
         return self._end(row, state)
 
+    def moved(self, state, deed):
+        """The state to which a deed leads, both of which are right."""
+        return self._targets[state][self._places[deed]]
+
+    def keeps(self, state):
+        """Whether a state, which is right, is kept."""
+        return state in self._kept
+
     def far(self, state):
         """The set of all states to which rows lead from a state, itself among them."""
         check_below(state, len(self._targets))
