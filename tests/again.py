@@ -1,6 +1,6 @@
 """What the document says of rows, wishes and shares, worked out again in slower and plainer ways than the program's."""
 
-from itertools import product
+from itertools import combinations, product
 
 
 def all_rows(deeds, size):
@@ -42,14 +42,18 @@ def own_rows(house, row):
     return {hand: own_row(house, row, hand) for hand in house.hands}
 
 
-def past(house, row, hand):
+def joint_past(house, row, hands):
     """By what each hand knows behind each deed, from the beginning on: the places of deeds."""
     known = {one: set() for one in house.hands}
     for place, deed in enumerate(row):
         together = set().union({place}, *[known[one] for one in house[deed]])
         for one in house[deed]:
             known[one] = together
-    return tuple(row[place] for place in sorted(known[hand]))
+    return tuple(row[place] for place in sorted(set().union(*[known[hand] for hand in hands])))
+
+
+def past(house, row, hand):
+    return joint_past(house, row, (hand,))
 
 
 def free_deeds(house, row):
@@ -265,3 +269,43 @@ def does(house, parts, wish):
             met.add(place)
             waiting += [row + (deed,) for deed in house.deeds]
     return True
+
+
+def subsets(values):
+    """All sets of some values, as ascending tuples."""
+    return [some for many in range(len(values) + 1) for some in combinations(values, many)]
+
+
+def joint_view(house, wish, row, hands):
+    return end(wish.deeds, wish.targets, joint_past(house, row, hands))
+
+
+def may_be(house, wish, row, hands):
+    """The states to which deeds without the hands lead from their view."""
+    free = [deed for deed in house.deeds if not set(house[deed]) & set(hands)]
+    return reached(wish, free, joint_view(house, wish, row, hands))
+
+
+def knowers(house, wish, row, states):
+    return tuple(hand for hand in house.hands if set(may_be(house, wish, row, (hand,))) <= set(states))
+
+
+def lasts(wish, states):
+    return all(reached(wish, wish.deeds, state) == tuple(sorted(set(reached(wish, wish.deeds, state)) & set(states)))
+               for state in states)
+
+
+def lasting_sets(wish):
+    return [states for states in subsets(tuple(range(len(wish)))) if lasts(wish, states)]
+
+
+def rows_to_outlooks(house, wish):
+    """A row to each outlook, by pasts; with one deed more, they are rows of all kinds that the scheme tells apart."""
+    met, waiting = {}, [()]
+    while waiting:
+        row = waiting.pop(0)
+        found = outlook(house, wish, row)
+        if found not in met:
+            met[found] = row
+            waiting += [row + (deed,) for deed in house.deeds]
+    return met

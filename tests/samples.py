@@ -117,6 +117,38 @@ def steady(seed, each=4, most=8):
     return found
 
 
+@cache
+def falling():
+    """Pairs of a house and a steady wish with many lasting sets, each with these sets."""
+    alone = House(("k", "l", "n"), {"a": ("k",), "b": ("l",), "c": ("n",)})
+    found = [(duo(), calm()), (duo(), once()), (duo(), grid(duo(), {"a": 1, "b": 2})), (duo(), gadgets(2))]
+    found += [(line(), grid(line(), {"a": 1, "c": 1})), (alone, grid(alone, {"a": 1, "b": 1, "c": 1}))]
+    found += [(groves(), grid(groves(), {"one": 1, "d": 1})), (snake(), grid(snake(), {"bc": 1, "de": 1}))]
+    found += [(duo(), ~once() | calm()), (line(), grid(line(), {"x": 1, "c": 2})), (duo(), once() & calm().turned())]
+    found += [(house, wish) for house, wish in steady(21, most=6) if 2 < len(again.lasting_sets(wish))]
+    return [(house, wish, again.lasting_sets(wish)) for house, wish in found]
+
+
+def gadgets(many):
+    """A wish in which b behind a, or a behind b, is a loss, from so many states that the deed m goes through in turn.
+
+    Behind one of both alone deeds m are losses, too, and the deeds c, d, e if a bit of the number of the state tells so.
+    """
+    lost = many * 3
+    deeds = ("a", "b") + ("c", "d", "e") * (many > 2) + ("m",)
+    ends = []
+    for at in range(many):
+        labels = (lost,) * (len(deeds) - 3)
+        ends.append((many + at, many * 2 + at) + labels + ((at + 1) % many,))
+    for side in (1, 2):
+        for at in range(many):
+            state = side * many + at
+            labels = tuple(state if at >> bit & 1 else lost for bit in range(len(deeds) - 3))
+            stay = (state, lost) if side == 1 else (lost, state)
+            ends.append(stay + labels + (state if many <= 2 and at else lost,))
+    return Wish(deeds, tuple(ends) + ((lost,) * len(deeds),), tuple(range(lost)))
+
+
 def told(house):
     """All that a house tells of itself."""
     doers = {deed: house[deed] for deed in house.deeds}
@@ -169,6 +201,24 @@ def no_numbers(limit):
     """Values that are no integers from 0 on that are less than the limit; the limit and -1 are among them."""
     numbers = [value for value in odd_values() if type(value) is not int or not 0 <= value < limit]
     return numbers + [limit, limit + 1, -1, "0", (), (0,), [0]]
+
+
+def no_states(many):
+    """Values that are no sets of states of a wish with so many."""
+    values = [[0], (1, 0), (0, 0), (many,), (0, many), (-1,), (True,), (False, 1), 0, "0", (None,), ((0,),), {0: 0}]
+    values += [(0, 1, many), (0, -1), ("0",), (0, "1"), list(range(many)), (10 ** 60,), (0, [1])] + odd_values()
+    return [value for value in values if not is_ascending(value) or not set(value) <= set(range(many))]
+
+
+def is_ascending(value):
+    """Whether the value is a tuple of integers, each greater than the one ahead of it."""
+    return type(value) is tuple and all(type(part) is int for part in value) and list(value) == sorted(set(value))
+
+
+def no_hands():
+    """Values that are no sets of hands of duo."""
+    values = [["l"], ("r", "l"), ("l", "l"), ("l", "zz"), ("a",), "l", ("lr",), {"l": 1}, (("l",),), ("l", "r", "zz")]
+    return values + [(None,), ("l", 1), ("l", ["r"])] + [value for value in odd_values() if value != ()]
 
 
 class Case(unittest.TestCase):

@@ -3,7 +3,11 @@
 from eachshare.base.houses import House
 from eachshare.base.names import is_integer, is_name, is_names, is_set
 from eachshare.base.rows import alike_rows, are_alike, exchanged, first_alike, layers, own_rows, past, whole
-from eachshare.errors import InvalidHouse, InvalidShare, Unmatched
+from eachshare.errors import InvalidHouse, InvalidOperation, InvalidShare, Unmatched
+from eachshare.know.knowing import does_know, doubt, hopeless, lasting_from, may_be, view, won
+from eachshare.know.noticing import first_notice, is_notice_paper, is_noticed, knowers, least_noticed, notice_paper
+from eachshare.know.refusing import is_let, is_refusal_paper, is_refused, let_rows, refusal_paper
+from eachshare.share.informed import is_informed, views
 from eachshare.share.joins import join, next_outlook, outlook, outlooks, rest_ends, side_ends
 from eachshare.share.judged import is_same_paper, parting, parting_of, same_paper, wish_of
 from eachshare.share.made import is_paper, made, paper
@@ -209,3 +213,65 @@ class Stage9(Case):
             len(same_paper(~EVEN, self.odd)[1]) >= 4,
         ]
         self.assertEqual(answers, ["row", True, True])
+
+
+class Stage10(Case):
+    odd = Stage8.odd
+
+    def test_informed(self):
+        answers = [
+            is_informed(DUO, ~EVEN, self.odd), is_informed(DUO, ONCE, made(DUO, ONCE)),
+            sorted(set(views(DUO, ONCE, made(DUO, ONCE))["l"]) - {None}),
+        ]
+        self.assertEqual(answers, [False, True, [0, 1, 2]])
+
+    def test_another_wish(self):
+        self.caught(InvalidOperation, views, DUO, EVEN, self.odd)
+
+
+class Stage11(Case):
+    def test_views(self):
+        answers = [
+            view(DUO, CALM, ("a", "b"), ("l",)), view(DUO, CALM, ("a", "b"), ("l", "r")),
+            may_be(DUO, CALM, ("a", "b"), ("l",)), may_be(DUO, CALM, ("a", "m"), ()),
+        ]
+        self.assertEqual(answers, [1, 3, (1, 3), (0, 1, 2, 3)])
+
+    def test_knowing(self):
+        answers = [
+            does_know(DUO, CALM, ("a", "b", "m"), ("r",), (3,)), doubt(DUO, CALM, ("a",), ("l",), 3), hopeless(CALM),
+            won(CALM), lasting_from(CALM, (1,)),
+        ]
+        self.assertEqual(answers, [True, ("b",), (3,), (), (0, 1, 2, 3)])
+
+
+class Stage12(Case):
+    def test_sets(self):
+        answers = [
+            is_noticed(DUO, CALM, (3,)), notice_paper(DUO, CALM, (3,))[0], least_noticed(DUO, CALM, (3,)),
+            knowers(DUO, CALM, ("a", "b", "m"), (3,)),
+        ]
+        self.assertEqual(answers, [False, "missed", ((0, 1, 2, 3),), ("l", "r")])
+
+    def test_rows(self):
+        answers = [
+            first_notice(DUO, CALM, ("a", "b", "a", "m"), (3,)), first_notice(DUO, CALM, ("a", "b"), (3,)),
+            is_notice_paper(DUO, CALM, (3,), ("missed", ("m",), "b", "a")),
+        ]
+        self.assertEqual(answers, [(4, ("l", "r")), None, True])
+
+
+class Stage13(Case):
+    def test_refused(self):
+        answers = [
+            is_refused(DUO, CALM, ("a",), "b", (3,)), is_refused(DUO, CALM, ("a", "b"), "m", (3,)),
+            is_let(DUO, CALM, ("a", "b", "a"), (3,)), is_let(DUO, CALM, ("a", "b", "m"), (3,)),
+        ]
+        self.assertEqual(answers, [False, True, True, False])
+
+    def test_papers(self):
+        answers = [
+            refusal_paper(DUO, CALM, (0, 1, 2, 3)), is_refusal_paper(DUO, CALM, (3,), ("lost", ("a", "b"))),
+            ("a", "b", "b") in let_rows(DUO, CALM, (3,)), len(let_rows(DUO, CALM, (3,))),
+        ]
+        self.assertEqual(answers, [("kept",), True, True, 5])

@@ -37,6 +37,22 @@ FUNCTIONS = {
         "parting": "(wish, share)", "parting_of": "(one, other)", "same_paper": "(wish, share)",
         "is_same_paper": "(wish, share, value)", "wish_of": "(share)",
     },
+    "eachshare.share.informed": {"views": "(house, wish, share)", "is_informed": "(house, wish, share)"},
+    "eachshare.know.knowing": {
+        "view": "(house, wish, row, hands)", "may_be": "(house, wish, row, hands)",
+        "does_know": "(house, wish, row, hands, states)", "doubt": "(house, wish, row, hands, state)",
+        "is_lasting": "(wish, states)", "lasting_from": "(wish, states)", "hopeless": "(wish)", "won": "(wish)",
+    },
+    "eachshare.know.noticing": {
+        "is_noticed": "(house, wish, states)", "knowers": "(house, wish, row, states)",
+        "first_notice": "(house, wish, row, states)", "notice_paper": "(house, wish, states)",
+        "is_notice_paper": "(house, wish, states, value)", "least_noticed": "(house, wish, states)",
+    },
+    "eachshare.know.refusing": {
+        "is_refused": "(house, wish, row, deed, states)", "is_let": "(house, wish, row, states)",
+        "let_rows": "(house, wish, states)", "refusal_paper": "(house, wish, states)",
+        "is_refusal_paper": "(house, wish, states, value)",
+    },
 }
 CONSTANTS = {
     "eachshare.base.names": {"MAX_LETTERS": 8},
@@ -44,6 +60,7 @@ CONSTANTS = {
     "eachshare.wish.wishes": {"MAX_STATES": 24, "MAX_GIVEN": 100},
     "eachshare.share.shares": {"MAX_LOCAL": 64, "MAX_STANDINGS": 20000},
     "eachshare.share.made": {"MAX_SHARED": 8},
+    "eachshare.know.noticing": {"MAX_SETS": 200},
 }
 CLASSES = {
     ("eachshare.base.houses", "House"): {

@@ -21,18 +21,6 @@ def places(house, wish):
     return product(house.hands, range(len(wish)))
 
 
-def met_outlooks(house, wish):
-    """All outlooks with a row to each, by pasts, deed by deed from rows that have met new ones."""
-    met, waiting = {}, [()]
-    while waiting:
-        row = waiting.pop(0)
-        found = again.outlook(house, wish, row)
-        if found not in met:
-            met[found] = row
-            waiting += [row + (deed,) for deed in house.deeds]
-    return met
-
-
 def few(many):
     """Samples with no more than so many outlooks."""
     return [(house, wish) for house, wish in steady(7) if len(outlooks(house, wish)) <= many]
@@ -155,14 +143,14 @@ class Outlooks(Case):
 
     def test_one_deed_more(self):
         for house, wish in few(40):
-            for found, row in met_outlooks(house, wish).items():
+            for found, row in again.rows_to_outlooks(house, wish).items():
                 for deed in house.deeds:
                     wanted = again.outlook(house, wish, row + (deed,))
                     self.assertEqual(next_outlook(house, wish, found, deed), wanted)
 
     def test_all(self):
         for house, wish in few(400):
-            self.assertEqual(outlooks(house, wish), tuple(sorted(met_outlooks(house, wish))))
+            self.assertEqual(outlooks(house, wish), tuple(sorted(again.rows_to_outlooks(house, wish))))
 
     def test_kinds(self):
         found = outlooks(duo(), calm())
@@ -176,7 +164,7 @@ class NoOutlooks(Case):
 
     def test_all_tuples_of_pairs(self):
         for house, wish in ((duo(), even()), (duo(), once()), (duo(), calm())):
-            known = set(met_outlooks(house, wish))
+            known = set(again.rows_to_outlooks(house, wish))
             pairs = list(product(range(len(wish)), repeat=2))
             self.assertTrue(len(known) < len(pairs) ** 2)
             for value in product(pairs, repeat=2):

@@ -242,6 +242,15 @@ class Calls(unittest.TestCase):
                     taken = called(parent) in TAKERS and parent.args[0] == part
                     self.assertTrue(looped or taken, (path, part.lineno))
 
+    def test_ranges(self):
+        for path, tree in TREES.items():
+            for part, parent in with_parents(tree):
+                if called(part) == "range":
+                    looped = isinstance(parent, (ast.For, ast.comprehension)) and parent.iter == part
+                    kept = isinstance(parent, ast.Assign) and isinstance(parent.targets[0], ast.Name)
+                    taken = called(parent) in {"list", "tuple", "sorted", "reversed", "zip", "enumerate"}
+                    self.assertTrue(looped or kept or taken, (path, part.lineno))
+
     def test_reversed_takes_what_has_an_order(self):
         for path, part in walked(ast.Call):
             if called(part) == "reversed":

@@ -20,9 +20,14 @@ def past(house, row, hand):
     """The deeds of the row of which the hand can know, in order."""
     _check_house_and_row(house, row)
     check_known(hand, house.hands)
+    return joint_past(house, row, (hand,))
+
+
+def joint_past(house, row, hands):
+    """The deeds of the row of which at least one of the hands can know, in order, by arguments that are right."""
     doers = _doers(house)
-    # From the end on: a deed is in the past if one of its hands does a deed of the past later, or is the hand itself.
-    knowing = {hand}
+    # From the end on: a deed is in the past if one of its hands does a deed of the past later, or is one of the hands.
+    knowing = set(hands)
     found = []
     for deed in row[::-1]:
         if any([doer in knowing for doer in doers[deed]]):

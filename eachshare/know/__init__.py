@@ -1,0 +1,1 @@
+"""What hands know of a wish, by the deeds that they can know of."""
