@@ -204,7 +204,8 @@ class Papers(Case):
                 self.assertIs(is_notice_paper(house, wish, states, ("noticed",)), not missed)
 
     def test_all_short_rows_and_pairs(self):
-        for house, wish in ((duo(), calm()), (duo(), grid(duo(), {"a": 1, "b": 1})), (line(), grid(line(), {"a": 1, "c": 1}))):
+        wishes = [(duo(), wish) for wish in (calm(), once(), grid(duo(), {"a": 2, "b": 1}), grid(duo(), {"a": 1, "m": 1}))]
+        for house, wish in wishes + [(line(), grid(line(), {"a": 1, "c": 1}))]:
             rows = again.all_rows(house.deeds, 3)
             for states in again.lasting_sets(wish):
                 for row, one, other in product(rows, house.deeds, house.deeds):
@@ -223,6 +224,12 @@ class Papers(Case):
             self.assertIs(is_notice_paper(duo(), calm(), (3,), ("missed", row, "b", "a")), True)
             self.assertIs(is_notice_paper(duo(), calm(), (3,), ("missed", row + ("a",), "b", "a")), False)
             self.assertIs(is_notice_paper(duo(), calm(), (3,), ("missed", row, "b", "m")), False)
+
+    def test_deeds_that_are_not_apart(self):
+        self.assertIs(is_notice_paper(duo(), once(), (2,), ("missed", (), "a", "b")), True)
+        self.assertIs(is_notice_paper(duo(), once(), (2,), ("missed", (), "a", "a")), False)
+        house = duo().given("m", "r").as_one("l", "r")
+        self.assertIs(is_notice_paper(house, once(), (2,), ("missed", (), "a", "b")), False)
 
     def test_a_row_that_is_in_the_set(self):
         for row in (("a", "b"), ("a", "b", "m"), ("b", "a", "m", "m")):

@@ -1,6 +1,6 @@
 """Shares judged: whether a share does a wish, whether two shares do the same one, and which wish a share does."""
 
-from eachshare.base.checks import has_parts, is_below, is_row
+from eachshare.base.checks import has_parts, is_below
 from eachshare.errors import InvalidOperation
 from eachshare.share.checks import check_belongs, check_share, check_wish
 from eachshare.wish.machines import least_machine, met, way_to
@@ -58,7 +58,7 @@ def is_same_paper(wish, share, value):
         return False
     word, shown = value
     if word == "row":
-        return is_row(shown, wish.deeds) and (shown in wish) != (shown in share)
+        return (shown in wish) != (shown in share)
     return word == "same" and _are_pairs(wish, share, shown) and _is_table(wish, share, shown)
 
 
