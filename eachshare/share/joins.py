@@ -4,7 +4,7 @@ from eachshare.base.checks import are_below, check_below, check_house, check_kno
 from eachshare.errors import InvalidNumber, InvalidOperation
 from eachshare.share.checks import check_wish
 from eachshare.share.steady import check_steady
-from eachshare.wish.machines import met, ways
+from eachshare.wish.machines import met, way_to
 
 MAX_OUTLOOKS = 2000
 
@@ -17,11 +17,15 @@ class Scheme:
         self._wish = wish
         self._hands = house.hands
         self._doers = {deed: [places[hand] for hand in _lower_first(house, deed)] for deed in house.deeds}
-        self._joins = {hand: [_leads(house, wish, hand, base) for base in range(len(wish))] for hand in house.hands}
+        self._joins = {hand: _leads_of(house, wish, hand) for hand in house.hands}
 
     def start(self):
         """The outlook behind no deed."""
         return ((0, 0),) * len(self._hands)
+
+    def pairs(self, hand):
+        """All pairs that the hand can have, and perhaps more, (0, 0) first."""
+        return [(base, end) for base, ends in self._joins[hand].items() for end in sorted(ends)]
 
     def joined(self, hand, pair, state):
         """The join of the hand's pair with a state that comes of its base without a hand of its side."""
@@ -108,8 +112,6 @@ def next_outlook(house, wish, outlook, deed):
 
 def outlooks(house, wish):
     """The set of all outlooks."""
-    check_house(house)
-    check_wish(wish)
     check_steady(house, wish)
     return tuple(sorted(Scheme(house, wish).outlooks()))
 
@@ -121,8 +123,8 @@ def deeds_without(house, hands):
 
 def ways_by(wish, deeds, state):
     """The dict from all states to which rows of these deeds lead from a state to the first one of the shortest rows."""
-    targets = [[wish.moved(each, deed) for deed in deeds] for each in range(len(wish))]
-    return {end: tuple([deeds[place] for place in row]) for end, row in ways(targets, state).items()}
+    found = met(wish, state, deeds, len(wish))
+    return {end: way_to(found, end) for end in found}
 
 
 def _check_beginning(house, wish, hand, state):
@@ -138,15 +140,28 @@ def _side_deeds(house, hand):
     return [deed for deed in house.deeds if all([doer in side for doer in house[deed]])]
 
 
+def _leads_of(house, wish, hand):
+    """The dict from all bases that the hand can have to where deeds of its side lead from them, as _leads tells it."""
+    return {base: _leads(house, wish, hand, base) for base in _bases(house, wish, hand)}
+
+
+def _bases(house, wish, hand):
+    """The states, ascending, that can be right behind a deed of the hand and the one above it, and 0."""
+    upper = house.above(hand)
+    common = [deed for deed in house.deeds_of(hand) if upper in house[deed]]
+    bases = {wish.moved(state, deed) for state in range(len(wish)) for deed in common}
+    bases.add(0)
+    return sorted(bases)
+
+
 def _leads(house, wish, hand, state):
     """The dict from the ends of the hand's side from a state to where a row to each of them leads each state."""
-    states = range(len(wish))
-    columns = {deed: [wish.moved(each, deed) for each in states] for deed in wish.deeds}
-    found = {}
-    for end, row in ways_by(wish, _side_deeds(house, hand), state).items():
-        found[end] = list(states)
-        for deed in row:
-            found[end] = [columns[deed][each] for each in found[end]]
+    columns = {deed: [wish.moved(each, deed) for each in range(len(wish))] for deed in wish.deeds}
+    found = {state: list(range(len(wish)))}
+    for end, came in met(wish, state, _side_deeds(house, hand), len(wish)).items():
+        if came is not None:
+            ahead, deed = came
+            found[end] = [columns[deed][each] for each in found[ahead]]
     return found
 
 

@@ -3,7 +3,7 @@
 from eachshare.base.checks import check_house, has_parts
 from eachshare.errors import TooMany
 from eachshare.share.checks import check_belongs, check_wish
-from eachshare.share.joins import Scheme, side_ends
+from eachshare.share.joins import Scheme
 from eachshare.share.judged import parting
 from eachshare.share.shares import Share, hearer
 from eachshare.share.steady import breach, check_steady, is_breach
@@ -13,13 +13,11 @@ MAX_SHARED = 8
 
 def made(house, wish):
     """An informed share that does the wish, in which each hand has the pairs of the scheme as its states."""
-    check_house(house)
-    check_wish(wish)
     check_steady(house, wish)
     if len(wish) > MAX_SHARED:
         raise TooMany(MAX_SHARED)
     scheme = Scheme(house, wish)
-    numbers = {hand: _numbered(_pairs(house, wish, hand)) for hand in house.hands}
+    numbers = {hand: _numbered(_pairs(house, wish, scheme, hand)) for hand in house.hands}
     sizes = {hand: len(numbers[hand]) for hand in house.hands}
     tables = {deed: _table(house, scheme, numbers, deed) for deed in house.deeds}
     folds = {hand: _fold(scheme, numbers, hand, hearer(house, hand)) for hand in house.hands[1:]}
@@ -49,15 +47,12 @@ def is_paper(house, wish, value):
     return has_parts(value, 3) and value[0] == "breach" and is_breach(house, wish, value[1:])
 
 
-def _pairs(house, wish, hand):
-    """The pairs that the hand can have, (0, 0) first."""
+def _pairs(house, wish, scheme, hand):
+    """The pairs that the hand can have, at the end of a row too, (0, 0) first."""
     if hand == house.hands[0]:
         # Tops of other trees tell to it, and then it can be in a state to which no deeds of its own tree lead.
         return [(0, state) for state in range(len(wish))]
-    common = [deed for deed in house.deeds_of(hand) if house.above(hand) in house[deed]]
-    bases = {wish.moved(state, deed) for state in range(len(wish)) for deed in common}
-    bases.add(0)
-    return [(base, end) for base in sorted(bases) for end in side_ends(house, wish, hand, base)]
+    return scheme.pairs(hand)
 
 
 def _numbered(pairs):

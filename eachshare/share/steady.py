@@ -47,11 +47,11 @@ def is_breach(house, wish, value):
 
 
 def check_steady(house, wish):
-    """Raise InvalidOperation unless the wish belongs to the house, then Unsteady unless it is steady for it.
+    """Raise Unsteady if the wish is not steady for the house.
 
-    This comes behind the checks of all arguments, one by one.
+    As is_steady does, it refuses ahead of this what is no house, no wish, or no wish of the house. If there are further
+    arguments, the house, the wish and these are checked one by one ahead of it.
     """
-    check_belongs(house, wish)
     if not is_steady(house, wish):
         raise Unsteady(breach(house, wish))
 
