@@ -286,6 +286,16 @@ class Errors(Case):
         self.wrong_number(2, join, duo(), wish, "r", 0, 1, 2)
         self.assertEqual(join(duo(), wish, "r", 2, 3, 3), 2)
 
+    def test_ends_come_last(self):
+        # What is no end is refused behind all else, whether it is a state or not, and the first one ahead of the other.
+        wish = turning(duo(), 4, {"b": 2, "a": 2})
+        for odd in no_numbers(3) + [0, 1, 2]:
+            self.caught(InvalidOperation, join, line(), even(), "r", 0, odd, odd)
+            self.caught(InvalidOperation, join, line(), first(), "r", 0, 0, odd)
+            self.caught(Unsteady, join, duo(), first(), "r", 1, odd, 0)
+            self.caught(Unsteady, join, duo(), first(), "r", 1, 1, odd)
+            self.wrong_number(3, join, duo(), wish, "r", 0, 3, odd)
+
     def test_row(self):
         for odd in odd_values() + ["a", ["a"], ("z",), ("a", ["b"]), ("l",), {}, []]:
             self.caught(InvalidRow, outlook, duo(), even(), odd)

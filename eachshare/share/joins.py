@@ -1,6 +1,6 @@
 """Joins and outlooks: what the hands know of a steady wish, and how they put it together."""
 
-from eachshare.base.checks import are_below, check_below, check_house, check_known, check_row, has_parts
+from eachshare.base.checks import are_below, check_below, check_house, check_known, check_row, has_parts, is_below
 from eachshare.errors import InvalidNumber, InvalidOperation
 from eachshare.share.checks import check_wish
 from eachshare.share.steady import check_steady
@@ -77,14 +77,10 @@ def rest_ends(house, wish, hand, state):
 def join(house, wish, hand, state, one, other):
     """The state behind two rows from a state, the first one of the hand's side, by the states behind each of them."""
     _check_beginning(house, wish, hand, state)
-    check_below(one, len(wish))
-    check_below(other, len(wish))
     check_steady(house, wish)
     found = _leads(house, wish, hand, state)
-    if one not in found:
-        raise InvalidNumber(one)
-    if other not in ways_by(wish, deeds_without(house, house.side(hand)), state):
-        raise InvalidNumber(other)
+    _check_end(wish, one, found)
+    _check_end(wish, other, ways_by(wish, deeds_without(house, house.side(hand)), state))
     return found[one][other]
 
 
@@ -132,6 +128,13 @@ def _check_beginning(house, wish, hand, state):
     check_wish(wish)
     check_known(hand, house.hands)
     check_below(state, len(wish))
+
+
+def _check_end(wish, value, ends):
+    """Raise InvalidNumber if the value is none of the states that are keys of the dict."""
+    # In Python True is 1, and some values are no keys at all.
+    if not is_below(value, len(wish)) or value not in ends:
+        raise InvalidNumber(value)
 
 
 def _side_deeds(house, hand):
