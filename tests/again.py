@@ -309,3 +309,24 @@ def rows_to_outlooks(house, wish):
             met[found] = row
             waiting += [row + (deed,) for deed in house.deeds]
     return met
+
+
+def counts(house, row):
+    """How many of its own deeds each hand has in the row."""
+    return tuple(len(own_row(house, row, hand)) for hand in house.hands)
+
+
+def cuts(house, row):
+    """By all beginnings of all alike rows: the dict from all cuts to one of the beginnings."""
+    return {counts(house, other[:many]): other[:many] for other in alike(house, row) for many in range(len(row) + 1)}
+
+
+def avoids(wish, row, states):
+    """Whether no beginning of the row leads to one of the states."""
+    return not any(end(wish.deeds, wish.targets, row[:many]) in states for many in range(len(row) + 1))
+
+
+def views_along(house, wish, row, hand, ahead=0):
+    """The views of a hand behind each of its deeds in a row, those of the first deeds aside, so many as told."""
+    places = [place for place, deed in enumerate(row) if hand in house[deed] and place >= ahead]
+    return [view_of(house, wish, row[:place + 1], hand) for place in places]

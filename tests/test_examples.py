@@ -4,9 +4,12 @@ from eachshare.base.houses import House
 from eachshare.base.names import is_integer, is_name, is_names, is_set
 from eachshare.base.rows import alike_rows, are_alike, exchanged, first_alike, layers, own_rows, past, whole
 from eachshare.errors import InvalidHouse, InvalidOperation, InvalidShare, Unmatched
+from eachshare.know.cuts import avoiding, count_alike, cuts, next_cuts, perhaps, row_at, state_at, surely
+from eachshare.know.endless import does_meet, for_ever, goal_paper, is_goal_paper
 from eachshare.know.knowing import does_know, doubt, hopeless, lasting_from, may_be, view, won
 from eachshare.know.noticing import first_notice, is_notice_paper, is_noticed, knowers, least_noticed, notice_paper
 from eachshare.know.refusing import is_let, is_refusal_paper, is_refused, let_rows, refusal_paper
+from eachshare.put.together import from_own, is_own_paper, own_paper, own_wishes, then_alike
 from eachshare.share.informed import is_informed, views
 from eachshare.share.joins import join, next_outlook, outlook, outlooks, rest_ends, side_ends
 from eachshare.share.judged import is_same_paper, parting, parting_of, same_paper, wish_of
@@ -275,3 +278,53 @@ class Stage13(Case):
             ("a", "b", "b") in let_rows(DUO, CALM, (3,)), len(let_rows(DUO, CALM, (3,))),
         ]
         self.assertEqual(answers, [("kept",), True, True, 5])
+
+
+class Stage14(Case):
+    row = ("a", "b", "m")
+
+    def test_cuts(self):
+        answers = [
+            cuts(DUO, self.row), row_at(DUO, self.row, (0, 1)), next_cuts(DUO, self.row, (0, 0)), count_alike(DUO, self.row),
+        ]
+        wanted = [((0, 0), (0, 1), (1, 0), (1, 1), (2, 2)), ("b",), (("a", (1, 0)), ("b", (0, 1))), 2]
+        self.assertEqual(answers, wanted)
+
+    def test_states(self):
+        answers = [
+            perhaps(DUO, CALM, ("a", "b")), surely(DUO, CALM, ("a", "b"), (1, 2)), avoiding(DUO, CALM, ("a", "b"), (1,)),
+            state_at(DUO, CALM, self.row, (2, 2)),
+        ]
+        self.assertEqual(answers, [(0, 1, 2, 3), True, ("b", "a"), 3])
+
+
+class Stage15(Case):
+    def test_for_ever(self):
+        answers = [
+            for_ever(DUO, CALM, (), ("a", "m"), "l"), for_ever(DUO, CALM, ("b",), ("a",), "l"),
+            for_ever(DUO, CALM, (), ("a",), "r"),
+        ]
+        self.assertEqual(answers, [(0, 1), (1,), ()])
+
+    def test_goals(self):
+        answers = [
+            does_meet(DUO, CALM, "l", (0, 1, 3)), is_goal_paper(DUO, CALM, "l", (0,), ("misses", (), ("a",))),
+            is_goal_paper(DUO, EVEN, "r", (0,), ("misses", ("b",), ("b", "b"))),
+        ]
+        self.assertEqual(answers, [True, True, False])
+        self.assertEqual([goal_paper(DUO, EVEN, "l", (0, 1))[0], does_meet(DUO, EVEN, "l", (1,))], ["meets", False])
+
+
+class Stage16(Case):
+    both = then_alike(DUO, Wish.of_rows(("a", "b", "m"), (("a",),)), Wish.of_rows(("a", "b", "m"), (("b",),)))
+
+    def test_then_alike(self):
+        answers = [("b", "a") in self.both, self.both.count(2), own_paper(DUO, self.both), own_paper(DUO, EVEN)[0]]
+        self.assertEqual(answers, [True, 2, ("own",), "shared"])
+
+    def test_own(self):
+        answers = [
+            own_wishes(DUO, self.both)["l"] == Wish.of_rows(("a", "m"), (("a",),)),
+            from_own(DUO, own_wishes(DUO, EVEN)) == from_own(DUO, {}), is_own_paper(DUO, EVEN, ("shared", ("m", "b"))),
+        ]
+        self.assertEqual(answers, [True, True, True])

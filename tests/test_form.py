@@ -53,6 +53,19 @@ FUNCTIONS = {
         "let_rows": "(house, wish, states)", "refusal_paper": "(house, wish, states)",
         "is_refusal_paper": "(house, wish, states, value)",
     },
+    "eachshare.know.cuts": {
+        "cuts": "(house, row)", "row_at": "(house, row, cut)", "state_at": "(house, wish, row, cut)",
+        "next_cuts": "(house, row, cut)", "perhaps": "(house, wish, row)", "surely": "(house, wish, row, states)",
+        "avoiding": "(house, wish, row, states)", "count_alike": "(house, row)",
+    },
+    "eachshare.know.endless": {
+        "for_ever": "(house, wish, stem, turn, hand)", "does_meet": "(house, wish, hand, goal)",
+        "goal_paper": "(house, wish, hand, goal)", "is_goal_paper": "(house, wish, hand, goal, value)",
+    },
+    "eachshare.put.together": {
+        "then_alike": "(house, one, other)", "own_wishes": "(house, wish)", "from_own": "(house, wishes)",
+        "own_paper": "(house, wish)", "is_own_paper": "(house, wish, value)",
+    },
 }
 CONSTANTS = {
     "eachshare.base.names": {"MAX_LETTERS": 8},
@@ -61,6 +74,7 @@ CONSTANTS = {
     "eachshare.share.shares": {"MAX_LOCAL": 64, "MAX_STANDINGS": 20000},
     "eachshare.share.made": {"MAX_SHARED": 8},
     "eachshare.know.noticing": {"MAX_SETS": 200},
+    "eachshare.know.cuts": {"MAX_CUTS": 2000},
 }
 CLASSES = {
     ("eachshare.base.houses", "House"): {

@@ -11,7 +11,7 @@ TREES = {path: ast.parse(path.read_text(encoding="ascii")) for path in sorted(PA
 BUILTIN_METHODS = {
     "append", "clear", "copy", "count", "endswith", "extend", "find", "get", "index", "insert", "items", "join", "keys",
     "pop", "remove", "replace", "reverse", "setdefault", "split", "startswith", "strip", "update", "values",
-    "add", "discard",
+    "add", "discard", "bit_length",
 }
 DUNDERS = {
     "__init__", "__eq__", "__ne__", "__repr__", "__str__", "__len__", "__enter__", "__exit__", "__call__", "__iter__",
@@ -21,12 +21,15 @@ DUNDERS = {
 OPERATORS = DUNDERS - {"__init__", "__enter__", "__exit__", "__call__", "__iter__"}
 STATEMENTS = (
     ast.Assign, ast.AugAssign, ast.If, ast.While, ast.For, ast.Return, ast.Break, ast.Continue, ast.Pass, ast.Raise,
-    ast.Assert, ast.Delete, ast.Expr, ast.FunctionDef, ast.ClassDef, ast.ImportFrom,
+    ast.Assert, ast.Delete, ast.Expr, ast.FunctionDef, ast.ClassDef, ast.ImportFrom, ast.With, ast.Try,
 )
 ON_THE_SPOT = {"zip", "enumerate", "reversed"}
 VIEWS = {"items", "keys", "values"}
 TAKERS = {"list", "tuple", "dict", "sorted", "sum", "any", "all", "enumerate", "zip", "min", "max"}
 CHANGING = {"append", "clear", "extend", "insert", "pop", "remove", "reverse", "setdefault", "update", "add", "discard"}
+# Classes whose objects change, and names of methods that take what hangs on their class.
+CHANGED = {"Desk", "Trial"}
+SEVERAL = {"after", "renamed", "_end"}
 WORDS = {
     "type", "typing", "enum", "Enum", "Flag", "Generic", "Protocol", "ABC", "namedtuple", "dataclass", "overload",
     "contextmanager", "mro", "elements", "open", "input", "law", "register", "map", "filter", "hash",
@@ -67,6 +70,18 @@ def stored(function):
     return {part.id for part in ast.walk(function) if isinstance(part, ast.Name) and isinstance(part.ctx, ast.Store)}
 
 
+def is_plain(value, place, body):
+    """Whether a value at this place of a file is plain: of constants, tuples of such, and functions defined above."""
+    if isinstance(value, ast.Dict):
+        parts = value.keys + value.values
+        return not any(isinstance(part, ast.Dict) for part in parts) and all(is_plain(part, place, body) for part in parts)
+    if isinstance(value, ast.Tuple):
+        return not any(isinstance(part, ast.Dict) for part in value.elts) and all(is_plain(part, place, body) for part in value.elts)
+    if isinstance(value, ast.Name):
+        return value.id in {part.name for part in body[:place] if isinstance(part, ast.FunctionDef)}
+    return isinstance(value, ast.Constant)
+
+
 def assigned(function, name):
     """What a local variable is assigned by plain statements."""
     return [
@@ -81,10 +96,40 @@ class Statements(unittest.TestCase):
             self.assertIsInstance(part, STATEMENTS, (path, part.lineno))
 
     def test_no_generator_expressions_and_no_floats(self):
-        for path, part in walked((ast.GeneratorExp, ast.Starred, ast.NamedExpr, ast.Div)):
+        for path, part in walked((ast.GeneratorExp, ast.NamedExpr, ast.Div)):
             self.fail((path, part))
         for path, part in walked(ast.Constant):
             self.assertIsInstance(part.value, (int, str, type(None)), path)
+
+    def test_stars(self):
+        for path, tree in TREES.items():
+            for part, parent in with_parents(tree):
+                if isinstance(part, ast.Starred):
+                    # Only what a table of functions gives is called so, by a list or tuple that a name holds.
+                    self.assertEqual([called(parent), type(part.value)], ["action", ast.Name], path)
+
+    def test_errors_that_are_caught_are_own(self):
+        own = {part.name for _, part in walked(ast.ClassDef)}
+        for path, part in walked(ast.ExceptHandler):
+            names = part.type.elts if isinstance(part.type, ast.Tuple) else [part.type]
+            self.assertTrue({name.id for name in names} <= own, path)
+        for path, part in walked(ast.Try):
+            self.assertEqual(part.finalbody, [], path)
+            caught = [handler.name for handler in part.handlers if handler.name]
+            self.assertEqual(len(caught), len(set(caught)), path)
+
+    def test_blocks(self):
+        for path, part in walked(ast.With):
+            self.assertEqual(len(part.items), 1, path)
+            self.assertIsInstance(part.items[0].context_expr, ast.Call, path)
+        for path, part in functions():
+            if part.name == "__exit__":
+                begun, *rest = part.body
+                self.assertEqual(ast.unparse(begun), "desk = self._desk", path)
+                for row in rest:
+                    self.assertIsInstance(row, ast.Assign, path)
+                    self.assertEqual(row.targets[0].value.id, "desk", path)
+                    self.assertTrue(is_of_self(row.value), path)
 
     def test_annotations_and_decorators(self):
         for path, part in functions():
@@ -97,14 +142,15 @@ class Statements(unittest.TestCase):
         for path, tree in TREES.items():
             for place, part in enumerate(tree.body):
                 docstring = place == 0 and isinstance(part, ast.Expr) and isinstance(part.value, ast.Constant)
-                plain = isinstance(part, ast.Assign) and isinstance(part.value, ast.Constant)
+                plain = isinstance(part, ast.Assign) and is_plain(part.value, place, tree.body)
                 self.assertTrue(docstring or plain or isinstance(part, (ast.ImportFrom, ast.FunctionDef, ast.ClassDef)), path)
 
-    def test_identity_with_none_only(self):
+    def test_identity_with_constants_only(self):
         for path, part in walked(ast.Compare):
             for sign, other in zip(part.ops, part.comparators):
                 if isinstance(sign, (ast.Is, ast.IsNot)):
-                    self.assertIs(getattr(other, "value", 0), None, (path, part.lineno))
+                    self.assertIsInstance(other, ast.Constant, (path, part.lineno))
+                    self.assertTrue(other.value is None or isinstance(other.value, bool), (path, part.lineno))
 
     def test_generators(self):
         for path, tree in TREES.items():
@@ -162,6 +208,28 @@ class Names(unittest.TestCase):
                 del left[module]
 
 
+def is_of_self(part):
+    """Whether a part is an attribute of self."""
+    return isinstance(part, ast.Attribute) and isinstance(part.value, ast.Name) and part.value.id == "self"
+
+
+def callers_of_operators():
+    """The names of the functions and methods that operators and properties call, at once or by others, and their own."""
+    calls = {}
+    found = set()
+    for _, part in functions():
+        names = {called(one) or method_called(one) for one in ast.walk(part) if isinstance(one, ast.Call)}
+        calls.setdefault(part.name, set()).update(names - {None})
+        if part.name in OPERATORS or any(one.id == "property" for one in part.decorator_list):
+            found.add(part.name)
+    waiting = sorted(found)
+    while waiting:
+        for name in sorted(calls.get(waiting.pop(), set()) - found):
+            found.add(name)
+            waiting.append(name)
+    return found
+
+
 class Classes(unittest.TestCase):
     def methods(self):
         for path, part in walked(ast.ClassDef):
@@ -189,7 +257,25 @@ class Classes(unittest.TestCase):
         for part, row in self.methods():
             for one in ast.walk(row):
                 if isinstance(one, ast.Attribute) and isinstance(one.ctx, ast.Store):
-                    self.assertEqual(row.name, "__init__", part.name)
+                    self.assertTrue(row.name == "__init__" or part.name in CHANGED, part.name)
+                    self.assertTrue(row.name == "__init__" or row.name not in callers_of_operators(), row.name)
+
+    def test_no_attribute_is_a_property(self):
+        # An attribute of one class that has the name of a property of another one is not barred, but hard to read.
+        names = {row.name for _, row in self.methods() if any(one.id == "property" for one in row.decorator_list)}
+        for path, one in walked(ast.Attribute):
+            if isinstance(one.ctx, ast.Store):
+                self.assertNotIn(one.attr, names, path)
+
+    def test_methods_of_one_name_take_the_same_number(self):
+        # Whatever object a method is called of, the call passes what it takes.
+        many = {}
+        for part, row in self.methods():
+            if not row.name.startswith("__"):
+                shape = (len(row.args.args), len(row.args.kwonlyargs))
+                many.setdefault(row.name, {}).setdefault(shape, []).append(part.name)
+        several = {name: shapes for name, shapes in many.items() if len(shapes) > 1}
+        self.assertEqual(set(several), SEVERAL)
 
     def test_lengths(self):
         for _, row in self.methods():
@@ -231,7 +317,8 @@ class Calls(unittest.TestCase):
 
     def test_no_parameter_is_called(self):
         for path, part in functions():
-            names = set(arguments(part)) - {"cls"} | stored(part)
+            # A block of a desk is told by a call; what a table of functions gives is kept under a name and called.
+            names = (set(arguments(part)) - {"cls"} | stored(part)) - {"call", "action"}
             self.assertEqual(names & {called(one) for one in ast.walk(part)}, set(), (path, part.name))
 
     def test_iterated_at_once(self):
@@ -269,11 +356,19 @@ class Calls(unittest.TestCase):
                 if target is not None:
                     while isinstance(target, ast.Subscript):
                         target = target.value
+                    if is_of_self(target):
+                        self.assertNotIn(part.name, callers_of_operators(), path)
+                        continue
                     self.assertIsInstance(target, ast.Name, (path, part.name))
                     values = assigned(part, target.id)
                     self.assertTrue(values, (path, part.name, target.id))
                     self.assertNotIn(target.id, arguments(part))
                     for value in values:
+                        while isinstance(value, ast.BinOp):
+                            value = value.right if isinstance(value.left, (ast.Name, ast.Constant)) else value.left
+                        if is_of_self(value.value if isinstance(value, ast.Subscript) else value):
+                            self.assertNotIn(part.name, callers_of_operators(), path)
+                            continue
                         self.assertTrue(isinstance(value, literals) or called(value) in made, (path, part.name, target.id))
 
     def test_what_is_iterated_over_does_not_change(self):

@@ -34,6 +34,15 @@ def check_set(house, wish, states):
     check_steady(house, wish)
 
 
+def check_row_and_states(house, wish, row, states):
+    """Raise the error of a house, a steady wish and a row of it, and any set of states, if one is wrong."""
+    check_house(house)
+    check_wish(wish)
+    check_row(row, house.deeds)
+    check_states(wish, states)
+    check_steady(house, wish)
+
+
 def check_row_and_set(house, wish, row, states):
     """Raise the error of a house, a steady wish and a row of it, and a lasting set of states, if one is wrong."""
     check_house(house)

@@ -101,7 +101,7 @@ def next_outlook(house, wish, outlook, deed):
     check_steady(house, wish)
     scheme = Scheme(house, wish)
     found = scheme.outlooks()
-    if not _are_pairs(outlook, len(house), len(wish)) or outlook not in found:
+    if not are_pairs(outlook, len(house), len(wish)) or outlook not in found:
         raise InvalidOperation("the outlook stands behind no row")
     return scheme.moved(outlook, deed)
 
@@ -174,7 +174,7 @@ def _lower_first(house, deed):
     return hands[::-1] if house.above(hands[-1]) == hands[0] else hands
 
 
-def _are_pairs(value, many, limit):
+def are_pairs(value, many, limit):
     """Whether the value is a tuple of so many pairs of states."""
     # In Python True is 1, and a tuple that has it would be found among the outlooks.
     return has_parts(value, many) and all([are_below(pair, 2, limit) for pair in value])

@@ -1,0 +1,1 @@
+"""What hands can do together, and what each of them can do alone."""
