@@ -6,7 +6,9 @@ from random import Random
 
 from eachshare import errors
 from eachshare.base.houses import House
+from eachshare.desk.desk import Desk
 from eachshare.share.shares import Share
+from eachshare.text.shell import Shell
 from eachshare.wish.wishes import Wish
 from tests import again
 
@@ -184,6 +186,9 @@ def nested_values():
 def own_objects():
     houses_alone = [duo(), line(), (duo(),), [line()], {0: duo()}]
     others = [even(), (even(),), [first()], {1: calm()}, odd_share(), (odd_share(), 0), [odd_share()]]
+    desk = Desk(duo())
+    desk.keep("calm", calm(), guarded=(3,))
+    others += [desk, (desk,), {0: desk}, desk.trial(), Shell("hands l\ndeed a l", {})]
     return houses_alone + others + [errors.InvalidHouse("l"), errors.UnknownName("l")]
 
 

@@ -216,7 +216,8 @@ class Limits(Case):
         self.assertEqual([avoiding(duo(), calm(), row, (3,)), surely(duo(), calm(), row, (2,))], [row, True])
         row = ("bc", "ac", "ae", "de") * 100
         wish = turning(snake(), 24, {"de": 5})
-        self.assertEqual([state_at(snake(), wish, row, cut) for cut in cuts(snake(), row)][-1], wish.after(row))
+        found = cuts(snake(), row)
+        self.assertEqual([state_at(snake(), wish, row, cut) for cut in (found[0], found[-1])], [0, wish.after(row)])
 
 
 class Errors(Case):

@@ -3,12 +3,14 @@
 from eachshare.base.houses import House
 from eachshare.base.names import is_integer, is_name, is_names, is_set
 from eachshare.base.rows import alike_rows, are_alike, exchanged, first_alike, layers, own_rows, past, whole
-from eachshare.errors import InvalidHouse, InvalidOperation, InvalidShare, Unmatched
+from eachshare.desk.desk import Desk
+from eachshare.errors import InvalidHouse, InvalidOperation, InvalidShare, ParseError, Refused, Unmatched
 from eachshare.know.cuts import avoiding, count_alike, cuts, next_cuts, perhaps, row_at, state_at, surely
 from eachshare.know.endless import does_meet, for_ever, goal_paper, is_goal_paper
 from eachshare.know.knowing import does_know, doubt, hopeless, lasting_from, may_be, view, won
 from eachshare.know.noticing import first_notice, is_notice_paper, is_noticed, knowers, least_noticed, notice_paper
 from eachshare.know.refusing import is_let, is_refusal_paper, is_refused, let_rows, refusal_paper
+from eachshare.put.crews import against, gifted, greatest_gifts, is_crew, least_crews, plan
 from eachshare.put.together import from_own, is_own_paper, own_paper, own_wishes, then_alike
 from eachshare.share.informed import is_informed, views
 from eachshare.share.joins import join, next_outlook, outlook, outlooks, rest_ends, side_ends
@@ -16,6 +18,10 @@ from eachshare.share.judged import is_same_paper, parting, parting_of, same_pape
 from eachshare.share.made import is_paper, made, paper
 from eachshare.share.shares import Share
 from eachshare.share.steady import breach, commuting, is_breach, is_steady
+from eachshare.text.formats import (
+    read_house, read_row, read_value, read_wish, write_house, write_row, write_value, write_wish,
+)
+from eachshare.text.shell import Shell
 from eachshare.wish.wishes import Wish
 from tests import again
 from tests.samples import Case
@@ -328,3 +334,72 @@ class Stage16(Case):
             from_own(DUO, own_wishes(DUO, EVEN)) == from_own(DUO, {}), is_own_paper(DUO, EVEN, ("shared", ("m", "b"))),
         ]
         self.assertEqual(answers, [True, True, True])
+
+
+class Stage17(Case):
+    def test_crews(self):
+        answers = [
+            least_crews(DUO, CALM, ("a",), (3,)), least_crews(DUO, CALM, ("a",), (0,)),
+            plan(DUO, CALM, ("a",), (0,), ("l", "r")), is_crew(DUO, CALM, ("a",), (1, 2), ()),
+        ]
+        self.assertEqual(answers, [(("r",),), (("l", "r"),), ("m",), True])
+
+    def test_gifts(self):
+        answers = [
+            greatest_gifts(DUO, EVEN), greatest_gifts(DUO, CALM), gifted(DUO, (("m", "l"),))["m"],
+            [gift for gift, _ in against(DUO, CALM, ())],
+        ]
+        self.assertEqual(answers, [((("m", "l"),), (("m", "r"),)), ((),), ("l",), [("m", "l"), ("m", "r")]])
+
+
+class Stage18(Case):
+    def test_desk(self):
+        desk = Desk(DUO)
+        answers = [
+            desk.keep("calm", CALM, guarded=(3,)), desk.keep("even", EVEN), desk.do_all(("a", "b")), desk.can_do("calm"),
+            desk.has("even"), str(desk),
+        ]
+        self.assertEqual(answers, [None, None, None, ("a", "b"), True, "desk of 2 hands, 2 deeds done"])
+        self.assertEqual(self.caught(Refused, desk.do, "m").name, "calm")
+        self.assertEqual(self.caught(Refused, desk.merge, "l", "r").name, "calm")
+        answers = [
+            desk.undo(), desk.view("calm", ("r",)), desk.do("m"), desk.row, desk.undo(many=2), desk.redo(),
+            len(desk.house["m"]),
+        ]
+        self.assertEqual(answers, [2, 0, None, ("m",), 1, 2, 2])
+
+
+class Stage19(Case):
+    def test_writing(self):
+        answers = [
+            write_house(DUO).split("\n"), write_wish(EVEN).split("\n"), write_row(("a", "m")),
+            write_value(("misses", ("b",), {})),
+        ]
+        wanted = [
+            ["hands l r", "deed a l", "deed b r", "deed m l r"], ["deeds a b m", "state 1 1 0 kept", "state 0 0 1"], "a m",
+            "( =misses ( =b ) { } )",
+        ]
+        self.assertEqual(answers, wanted)
+
+    def test_reading(self):
+        answers = [
+            read_house(write_house(DUO)) == DUO, read_wish(write_wish(CALM)) == CALM, read_row(""),
+            read_value("( =missed ( ) =a =b none )"),
+        ]
+        self.assertEqual(answers, [True, True, (), ("missed", (), "a", "b", None)])
+        self.assertEqual(self.caught(ParseError, read_house, "hands l\nhands r").index, 1)
+
+
+class Stage20(Case):
+    def test_shell(self):
+        shell = Shell(write_house(DUO), {"calm": write_wish(CALM), "even": write_wish(EVEN)})
+        answers = [
+            shell("guard calm 3"), shell("do a b"), shell("view calm l"), shell("may calm r"), shell("do m"),
+            shell("can calm"), shell("give m l"),
+        ]
+        self.assertEqual(answers, ["done", "done", "1", "2 3", "refused calm", "a b", "unsteady"])
+        answers = [
+            shell("crews calm 3"), shell("gifts even"), shell("goal calm l 0"), shell("undo 2"), shell("row"),
+            shell("forget x"), shell("fly"),
+        ]
+        self.assertEqual(answers, ["nobody", "m l\nm r", "misses", "done", "none", "unknown x", "what"])

@@ -66,6 +66,16 @@ FUNCTIONS = {
         "then_alike": "(house, one, other)", "own_wishes": "(house, wish)", "from_own": "(house, wishes)",
         "own_paper": "(house, wish)", "is_own_paper": "(house, wish, value)",
     },
+    "eachshare.put.crews": {
+        "is_crew": "(house, wish, row, states, hands)", "least_crews": "(house, wish, row, states)",
+        "plan": "(house, wish, row, states, hands)", "gifted": "(house, gifts)", "is_good": "(house, wish, gifts)",
+        "greatest_gifts": "(house, wish)", "against": "(house, wish, gifts)",
+        "is_against": "(house, wish, gifts, value)",
+    },
+    "eachshare.text.formats": {
+        "write_house": "(house)", "write_wish": "(wish)", "write_row": "(row)", "write_value": "(value)",
+        "read_house": "(text)", "read_wish": "(text)", "read_row": "(text)", "read_value": "(text)",
+    },
 }
 CONSTANTS = {
     "eachshare.base.names": {"MAX_LETTERS": 8},
@@ -75,6 +85,7 @@ CONSTANTS = {
     "eachshare.share.made": {"MAX_SHARED": 8},
     "eachshare.know.noticing": {"MAX_SETS": 200},
     "eachshare.know.cuts": {"MAX_CUTS": 2000},
+    "eachshare.put.crews": {"MAX_FAMILY": 200},
 }
 CLASSES = {
     ("eachshare.base.houses", "House"): {
@@ -96,12 +107,26 @@ CLASSES = {
         "__eq__": "(self, other)", "__str__": "(self)", "step": "(self, standing, deed)", "after": "(self, row)",
         "told": "(self, standing)", "standings": "(self)",
     },
+    ("eachshare.desk.desk", "Desk"): {
+        "__init__": "(self, house)", "__getitem__": "(self, name)", "__contains__": "(self, value)", "__len__": "(self)",
+        "__iter__": "(self)", "__eq__": "(self, other)", "__str__": "(self)",
+        "keep": "(self, name, wish, *, guarded=())", "forget": "(self, name)", "do": "(self, deed)",
+        "do_all": "(self, row)", "merge": "(self, one, other)", "give": "(self, deed, hand)", "has": "(self, name)",
+        "view": "(self, name, hands)", "may_be": "(self, name, hands)", "does_know": "(self, name, hands, states)",
+        "can_do": "(self, name)", "own_row": "(self, hand)", "undo": "(self, *, many=1)", "redo": "(self, *, many=1)",
+        "trial": "(self)", "during": "(self, call)", "twin": "(self)", "guard": "(self, name)",
+    },
+    ("eachshare.text.shell", "Shell"): {
+        "__init__": "(self, house_text, wish_texts)", "desk": "(self)", "answer": "(self, line)",
+        "__call__": "(self, line)",
+    },
 }
 CLASS_METHODS = {("eachshare.wish.wishes", "Wish"): {"of_rows": "(deeds, rows)"}}
 PROPERTIES = {
     ("eachshare.base.houses", "House"): ("hands", "deeds", "links", "apart"),
     ("eachshare.wish.wishes", "Wish"): ("deeds", "targets", "kept"),
     ("eachshare.share.shares", "Share"): ("house", "sizes", "tables", "folds", "kept", "first"),
+    ("eachshare.desk.desk", "Desk"): ("house", "row", "names"),
 }
 ERRORS = {
     "UnknownName": "(name)", "InvalidNumber": "(value)", "TooMany": "(limit)", "NothingToUndo": "(many)",

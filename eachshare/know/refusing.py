@@ -19,7 +19,7 @@ def is_refused(house, wish, row, deed, states):
     check_known(deed, house.deeds)
     check_lasting(wish, states)
     check_steady(house, wish)
-    return wish.moved(view_behind(house, wish, row, house[deed]), deed) in states
+    return refuses(house, wish, row, deed, states)
 
 
 def is_let(house, wish, row, states):
@@ -69,16 +69,24 @@ def is_refusal_paper(house, wish, states, value):
     return wish.after(row) in states and _is_let(house, wish, row, states)
 
 
-def _is_let(house, wish, row, states):
+def refuses(house, wish, row, deed, states):
+    """Whether the deed is refused behind the row, by arguments that are right."""
+    return wish.moved(view_behind(house, wish, row, house[deed]), deed) in states
+
+
+def first_refused(house, wish, row, states):
+    """How many deeds of the row stand ahead of the first one that is refused, or None, by arguments that are right."""
     scheme = Scheme(house, wish)
     pairs = scheme.start()
-    if 0 in states:
-        return False
-    for deed in row:
+    for place, deed in enumerate(row):
         pairs = scheme.moved(pairs, deed)
         if _leads_in(house, pairs, deed, states):
-            return False
-    return True
+            return place
+    return None
+
+
+def _is_let(house, wish, row, states):
+    return 0 not in states and first_refused(house, wish, row, states) is None
 
 
 def _leads_in(house, pairs, deed, states):

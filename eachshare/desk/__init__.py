@@ -1,0 +1,1 @@
+"""A house at work."""

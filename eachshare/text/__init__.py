@@ -1,0 +1,1 @@
+"""Houses, wishes, rows and values as texts, and the shell."""
