@@ -28,7 +28,7 @@ VIEWS = {"items", "keys", "values"}
 TAKERS = {"list", "tuple", "dict", "sorted", "sum", "any", "all", "enumerate", "zip", "min", "max"}
 CHANGING = {"append", "clear", "extend", "insert", "pop", "remove", "reverse", "setdefault", "update", "add", "discard"}
 # Classes whose objects change, and names of methods that take what hangs on their class.
-CHANGED = {"Desk", "Trial"}
+CHANGED = {"Desk", "Trial", "Proof"}
 SEVERAL = {"after", "renamed", "_end"}
 WORDS = {
     "type", "typing", "enum", "Enum", "Flag", "Generic", "Protocol", "ABC", "namedtuple", "dataclass", "overload",

@@ -258,6 +258,41 @@ class ThenAlike(Case):
             self.assertEqual(then_alike(place, wish, every(place.deeds)), every(place.deeds))
             self.assertEqual(then_alike(place, every(place.deeds), wish), every(place.deeds))
 
+    def test_sets_by_the_million(self):
+        # Two hands by themselves split their deeds in all ways, and each way leads to other sets of ends.
+        house = House(tuple("abcde"), {"s": ("c", "d"), "t": ("a", "e"), "u": ("d",), "v": ("a", "b")})
+        wishes = kept_at(turning(house, 10, {"s": 0}), (1, 3, 4, 7, 8, 9)), kept_at(turning(house, 3, {"v": 2}), (0, 2))
+        self.check_drawn_rows(house, *wishes, 11)
+        house = House(tuple("abcd"), {"s": ("c", "d"), "t": ("a",), "u": ("d",), "v": ("a",), "w": ("c",), "x": ("a",), "y": ("b",)})
+        one = kept_at(turning(house, 6, {deed: 0 for deed in "tuvwy"}), range(1, 6))
+        other = kept_at(turning(house, 4, {"u": 0, "v": 2, "w": 3, "x": 3, "y": 0}), (0, 2, 3))
+        self.check_drawn_rows(house, one, other, None)
+        house = House(tuple("lr"), {"a": ("l",), "b": ("l",), "c": ("r",), "d": ("r",)})
+        wishes = kept_at(turning(house, 20, {"b": 3, "d": 2}), range(0, 20, 2)), kept_at(turning(house, 2, {"c": 0}), (1,))
+        self.check_drawn_rows(house, *wishes, None)
+
+    def test_long_ends(self):
+        # All rows and then ones of another wish, whose words are as long as it has states.
+        house = House(tuple("abc"), {"s": ("b",), "t": ("b",), "u": ("c",), "v": ("a",), "w": ("a",)})
+        for size, steps, states in ((24, {}, (0,)), (24, {"t": 0, "v": 0}, (1, 5)), (19, {"s": 2, "w": 5}, (3,)), (20, {"u": 0, "v": 3}, (7, 11))):
+            for one in (every(house.deeds), turning(house, 2, {"u": 0})):
+                if len(one) * size <= 40:
+                    self.check_drawn_rows(house, one, kept_at(turning(house, size, steps), states), None)
+
+    def check_drawn_rows(self, house, one, other, many):
+        """The rows of both wishes are told rightly for some drawn rows, and by so many states, if this is known."""
+        try:
+            found = then_alike(house, one, other)
+        except TooMany as error:
+            self.assertEqual([error.limit, many], [24, None])
+            return
+        self.assertIn(many, (len(found), None))
+        self.assertIs(is_steady(house, found), True)
+        rng = Random(8)
+        for _ in range(40):
+            row = again.random_row(rng, house.deeds, rng.randint(0, 7))
+            self.assertIs(row in found, is_split(house, one, other, row))
+
     def test_24_states_of_one_hand(self):
         rng = Random(6)
         house = House(("h",), {deed: ("h",) for deed in "abcdefgh"})

@@ -6,7 +6,7 @@ from eachshare.base.rows import own_row
 from eachshare.errors import InvalidName, InvalidNumber, NothingToUndo, Refused, UnknownName
 from eachshare.know.checks import check_lasting
 from eachshare.know.knowing import does_know, may_be, view
-from eachshare.know.refusing import first_refused, is_let, refuses
+from eachshare.know.refusing import first_refused, lets, refuses
 from eachshare.share.checks import check_wish
 from eachshare.share.steady import check_steady
 
@@ -109,7 +109,7 @@ class Desk:
         check_wish(wish)
         check_lasting(wish, guarded)
         check_steady(self._now.home, wish)
-        if not is_let(self._now.home, wish, self._now.done, guarded):
+        if not lets(self._now.home, wish, self._now.done, guarded):
             raise Refused(name)
         self._go_on(self._now.home, self._now.done, {**self._now.kept_wishes, name: (wish, guarded)})
 
@@ -216,7 +216,7 @@ class Desk:
         for wish, guarded in wishes.values():
             check_steady(home, wish)
         for name, (wish, guarded) in wishes.items():
-            if not is_let(home, wish, self._now.done, guarded):
+            if not lets(home, wish, self._now.done, guarded):
                 raise Refused(name)
         self._go_on(home, self._now.done, wishes)
 

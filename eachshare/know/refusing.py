@@ -25,7 +25,7 @@ def is_refused(house, wish, row, deed, states):
 def is_let(house, wish, row, states):
     """Whether state 0 is not in the set and no deed of the row is refused behind those ahead of it."""
     check_row_and_set(house, wish, row, states)
-    return _is_let(house, wish, row, states)
+    return lets(house, wish, row, states)
 
 
 def let_rows(house, wish, states):
@@ -66,7 +66,7 @@ def is_refusal_paper(house, wish, states, value):
     word, row = value
     if word != "lost" or not is_row(row, house.deeds):
         return False
-    return wish.after(row) in states and _is_let(house, wish, row, states)
+    return wish.after(row) in states and lets(house, wish, row, states)
 
 
 def refuses(house, wish, row, deed, states):
@@ -85,7 +85,8 @@ def first_refused(house, wish, row, states):
     return None
 
 
-def _is_let(house, wish, row, states):
+def lets(house, wish, row, states):
+    """Whether the row is let, by arguments that are right."""
     return 0 not in states and first_refused(house, wish, row, states) is None
 
 

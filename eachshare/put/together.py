@@ -2,7 +2,7 @@
 
 from eachshare.base.checks import check_house, has_parts, is_row
 from eachshare.errors import InvalidOperation, TooMany
-from eachshare.put.several import least_of
+from eachshare.put.guesses import least_of
 from eachshare.share.checks import check_belongs, check_wish
 from eachshare.share.joins import deeds_without, ways_by
 from eachshare.share.steady import check_steady

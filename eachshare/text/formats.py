@@ -179,7 +179,7 @@ def _wish_of(lines):
 
 def _value_at(words, place, deep):
     """The value that begins at a place in the words and stands in so many tuples and dicts, and the place behind it."""
-    word = words[place] if place < len(words) else ""
+    word = words[place]
     if word == "(":
         parts, behind = _parts_at(words, place + 1, ")", deep + 1)
         return tuple(parts), behind
