@@ -90,6 +90,34 @@ def assigned(function, name):
     ]
 
 
+def mentioned(parts):
+    """The names of all variables and attributes in some parts."""
+    found = set()
+    for one in [one for part in parts for one in ast.walk(part)]:
+        if isinstance(one, (ast.Name, ast.Attribute)):
+            found.add(one.id if isinstance(one, ast.Name) else one.attr)
+    return found
+
+
+def taking_of_themselves(tree):
+    """The rows where +=, |= and their kin, extend or update get something of the list or dict that they change.
+
+    Told more strictly than the rule: a copy, a number, and what another object has under the same name count, too.
+    """
+    for part in ast.walk(tree):
+        target, given = None, []
+        if isinstance(part, ast.AugAssign):
+            target, given = part.target, [part.value]
+        elif method_called(part) in {"extend", "update"}:
+            target, given = part.func.value, part.args + [word.value for word in part.keywords]
+        while isinstance(target, ast.Subscript):
+            target = target.value
+        # What a call or a choice gives can be anything that is named in it.
+        names = {target.attr} if isinstance(target, ast.Attribute) else mentioned([target] if target else [])
+        if names & mentioned(given):
+            yield part.lineno
+
+
 class Statements(unittest.TestCase):
     def test_kinds(self):
         for path, part in walked(ast.stmt):
@@ -377,6 +405,30 @@ class Calls(unittest.TestCase):
             for one in [one for row in part.body for one in ast.walk(row)]:
                 if method_called(one) in CHANGING and isinstance(one.func.value, ast.Name):
                     self.assertNotIn(one.func.value.id, names, (path, part.lineno))
+
+    def test_nothing_takes_of_itself(self):
+        for path, tree in TREES.items():
+            self.assertEqual(list(taking_of_themselves(tree)), [], path)
+
+    def test_how_that_is_found(self):
+        # L5 Iteration: what += walks, or extend is handed, must not be what they change, whole or by an item.
+        taking = [
+            "counts[end] += counts[cut]", "counts[end] += counts.get(cut, 0)", "counts[end] += len(counts)",
+            "rows += rows", "rows += list(rows)", "rows += [row for row in rows]", "rows[0] += rows[1]", "rows[0][1] += rows[2]",
+            "many[end] -= many[cut]", "table |= table", "table[end] |= table[cut]", "rows.extend(rows)", "table.update(table)",
+            "rows.extend(list(rows))", "rows[0].extend(rows[1])", "table[end].update(more, k=table[cut])",
+            "self.rows += self.rows", "self.rows[0] += self.rows[1]", "self.rows.extend(other.rows)", "box.rows[k] += self.rows[j]",
+            "(rows or more).extend(rows)", "rows[k if rows else 0] += rows[1]",
+        ]
+        for text in taking:
+            self.assertEqual(list(taking_of_themselves(ast.parse("pass\n" + text))), [2], text)
+        others = [
+            "many = counts[cut]\ncounts[end] += many", "counts[end] = counts[end] + counts[cut]", "counts[end] += 1",
+            "counts[counts[end]] += 1", "rows += more", "rows.extend(list(more))", "table[end] |= more[cut]", "rows = rows + rows",
+            "self.rows += self.more", "self.rows[self.many] += self.many", "rows.append(rows[0])", "table.update(more)",
+        ]
+        for text in others:
+            self.assertEqual(list(taking_of_themselves(ast.parse(text))), [], text)
 
 
 class Sets(unittest.TestCase):

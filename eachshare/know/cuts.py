@@ -112,7 +112,7 @@ def count_alike(house, row):
     # Each deed more leads to cuts that are met later, so what is counted at a cut is complete when it comes up.
     for cut in found:
         for deed, end in course.steps(cut):
-            counts[end] += counts[cut]
+            counts[end] = counts[end] + counts[cut]
     return counts[found[-1]]
 
 
