@@ -3,9 +3,10 @@
 from eachshare.base.checks import check_house, check_row, has_parts
 from eachshare.errors import InvalidOperation, TooMany
 from eachshare.know.checks import check_hands, check_row_and_states, check_states
+from eachshare.put.several import members, united
 from eachshare.share.checks import check_wish
 from eachshare.share.joins import ways_by
-from eachshare.share.steady import breach, check_steady, is_breach, is_steady
+from eachshare.share.steady import breach, check_steady, commuting, is_breach, is_steady
 
 MAX_FAMILY = 200
 
@@ -55,20 +56,16 @@ def is_good(house, wish, gifts):
 def greatest_gifts(house, wish):
     """The ascending tuple of the good gifts that are contained in no other good ones."""
     check_steady(house, wish)
-    gifts = [gift for gift in _gifts_of(house, house.deeds) if is_steady(_gifted(house, (gift,)), wish)]
-    pairs = {}
-    for one in gifts:
-        for other in gifts:
-            if one[0] < other[0] and is_steady(_gifted(house, (one, other)), wish):
-                pairs[one, other] = True
-    # Whether two deeds are apart hangs on their own hands alone, so gifts are good if each two of them are.
-    families = [()]
-    for gift in gifts:
-        families = families + [family + (gift,) for family in families if _can_take(pairs, family, gift)]
-    found = [family for family in families if not _can_grow(pairs, family, gifts)]
-    if len(found) > MAX_FAMILY:
-        raise TooMany(MAX_FAMILY)
-    return tuple(sorted(found))
+    commutes = {pair: True for pair in commuting(wish)}
+    gifts = [gift for gift in _gifts_of(house, house.deeds) if _is_good_alone(house, commutes, gift)]
+    rivals = _rivals(commutes, gifts)
+    families = [0]
+    for place in range(len(gifts)):
+        families = _with_one_more(families, rivals, place)
+        # Each family stays or grows when another gift comes in, so there will not be fewer of them.
+        if len(families) > MAX_FAMILY:
+            raise TooMany(MAX_FAMILY)
+    return tuple(sorted([tuple([gifts[place] for place in members(bits)]) for bits in families]))
 
 
 def against(house, wish, gifts):
@@ -149,14 +146,50 @@ def _gifts_of(house, deeds):
     return [(deed, hand) for deed in deeds for hand in house[deed] if len(house[deed]) == 2]
 
 
-def _can_take(pairs, family, gift):
-    """Whether a gift is good together with each one of a family, by the dict from all good pairs."""
-    return all([(min(one, gift), max(one, gift)) in pairs for one in family])
+def _goes_with(commutes, gift, deed, hands):
+    """Whether a gift is good beside a deed of these hands, by a dict of the pairs of deeds that commute."""
+    given, hand = gift
+    return hand in hands or (min(given, deed), max(given, deed)) in commutes
 
 
-def _can_grow(pairs, family, gifts):
-    """Whether one of the gifts is good together with each one of a family."""
-    return any([_can_take(pairs, family, gift) for gift in gifts])
+def _is_good_alone(house, commutes, gift):
+    """Whether a gift without others is good for a steady wish."""
+    return all([_goes_with(commutes, gift, deed, house[deed]) for deed in house.deeds if deed != gift[0]])
+
+
+def _rivals(commutes, gifts):
+    """For each gift the bits of those that are not good together with it; each gift alone is good.
+
+    Whether two deeds are apart hangs on their own hands alone, so gifts are good if each two of them are.
+    """
+    found = [0] * len(gifts)
+    for place, gift in enumerate(gifts):
+        for other, (deed, hand) in enumerate(gifts):
+            # No pair of the dict has a deed twice, so both gifts of one deed are rivals.
+            if not _goes_with(commutes, gift, deed, (hand,)):
+                found[place] = found[place] | 1 << other
+    return found
+
+
+def _with_one_more(families, rivals, place):
+    """The bits of the greatest families up to the gift at this place, by those of the gifts ahead of it."""
+    found = {}
+    for bits in families:
+        more = (bits & ~rivals[place]) | (1 << place)
+        if more & bits == bits:
+            found[more] = True
+        else:
+            found[bits] = True
+            # In place of its rivals the gift can make a family that is contained in another one.
+            if _is_greatest(more, rivals, place):
+                found[more] = True
+    return list(found)
+
+
+def _is_greatest(bits, rivals, place):
+    """Whether a family has, or has a rival of, each gift up to this place."""
+    seen = bits | united(rivals, members(bits))
+    return all([seen >> other & 1 for other in range(place)])
 
 
 def _bad_ones_more(house, wish, gifts):
